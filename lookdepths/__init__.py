@@ -1,0 +1,1 @@
+"""How deep a solver must look, with papers both ways."""
