@@ -1,12 +1,14 @@
 """Points 1 and 2, for every function of the landed modules."""
 
+import itertools
 import unittest
 
-from lookdepths import books, clauses
+from lookdepths import books, clauses, depths, looks, opponents, trees
 from lookdepths import errors as wrong
 from lookdepths.books import Book
 from tests.helper import (
-    any_objects, is_book, is_name, is_names, is_row, is_rows, is_sent, is_signed_name, parameters, shown,
+    any_objects, ascends, is_book, is_look, is_name, is_names, is_plan, is_row, is_rows, is_score, is_sent,
+    is_signed_name, parameters, scramble, shown,
 )
 
 BOOK = Book([("-a", "b"), ("b", "c"), ("-c",), ()])
@@ -83,7 +85,135 @@ BOOK_CALLS = [
     (books.either, [ONE_BOOK, OTHER_BOOK, (
         "variable", wrong.InvalidVariable, lambda value: is_name(value) and value not in ABC + ["x", "y"], "z")]),
 ]
-CALLS = CLAUSE_CALLS + BOOK_CALLS
+
+# A book that can't be filled, of depth 2, and its papers; a book that can be filled and hides that "a" follows.
+TWO = Book([("a", "b"), ("-b", "a"), ("-a", "b"), ("-a", "-b")])
+HIDDEN = Book([("a", "b"), ("-b", "a")])
+RECORD = [("a", [("b", [("a", "b")]), ("-b", "a")]), ("b", [("-a", "b")]), ("-a", "-b")]
+TREE = ("a", ("b", ("-a", "-b"), ("-a", "b")), ("b", ("-b", "a"), ("a", "b")))
+FAMILY = {("a",): 1, (): 2, ("-a",): 1, ("-b",): 1, ("b",): 1}
+
+
+def is_number(value):
+    return isinstance(value, int) and not isinstance(value, bool) and value >= 0
+
+
+def is_number_from_one(value):
+    return is_number(value) and value >= 1
+
+
+def is_order_of_two(value):
+    return isinstance(value, list) and value in [["a", "b"], ["b", "a"]]
+
+
+def is_record_of_two(value):
+    return is_look(TWO.clauses(), value, 2)
+
+
+def is_tree_of_two(value):
+    return is_plan(TWO.clauses(), value)
+
+
+def is_family_of_two(value):
+    return is_score(TWO.clauses(), value)
+
+
+def is_part_of_two(value):
+    return is_row(value) and all(literal.strip("-") in ["a", "b"] for literal in value)
+
+
+def asked_in(value):
+    """The variables at the places of a tree by its form, None at what is none."""
+    if isinstance(value, tuple) and all(isinstance(entry, str) for entry in value):
+        return [] if is_row(value) else [None]
+    if not isinstance(value, tuple) or len(value) != 3 or not is_name(value[0]):
+        return [None]
+    return [value[0], *asked_in(value[1]), *asked_in(value[2])]
+
+
+def is_tree_apart(value):
+    asked = asked_in(value)
+    return None not in asked and len(set(asked)) == len(asked)
+
+
+TWO_BOOK, HIDDEN_BOOK = ("book", wrong.InvalidBook, is_book, TWO), ("book", wrong.InvalidBook, is_book, HIDDEN)
+DEPTH = ("depth", wrong.InvalidDepth, is_number, 2)
+NO_DEPTH = ("depth", wrong.InvalidDepth, is_number, 1)
+ORDER = ("order", wrong.InvalidNumber, is_number, 2)
+POINTS = ("points", wrong.InvalidNumber, is_number_from_one, 2)
+RECORD_ARGUMENT = ("record", wrong.InvalidLook, is_record_of_two, RECORD)
+TREE_ARGUMENT = ("tree", wrong.InvalidTree, is_tree_of_two, TREE)
+FAMILY_ARGUMENT = ("family", wrong.InvalidPoints, is_family_of_two, FAMILY)
+PART_OF_TWO = ("part", wrong.InvalidFilling, is_part_of_two, ("-b",))
+WHOLE = ("part", wrong.InvalidFilling, lambda value: is_part_of_two(value) and len(value) == 2, ("-a", "b"))
+CLAUSE_OF_HIDDEN = ("clause", wrong.InvalidClause, is_part_of_two, ("a",))
+LOOK_CALLS = [
+    (looks.shows, [TWO_BOOK, DEPTH]),
+    (looks.forced, [HIDDEN_BOOK, DEPTH]),
+    (looks.left_by, [HIDDEN_BOOK, DEPTH]),
+    (looks.shown_literals, [TWO_BOOK, NO_DEPTH]),
+    (looks.forced_by, [TWO_BOOK, DEPTH, ("order", wrong.InvalidVariable, is_order_of_two, ["b", "a"])]),
+    (looks.is_record, [TWO_BOOK, DEPTH, VALUE]),
+    (looks.record_of, [TWO_BOOK, DEPTH]),
+    (looks.least_depth, [TWO_BOOK]),
+    (looks.depth_at, [TWO_BOOK, PART_OF_TWO]),
+    (looks.clauses_in, [TWO_BOOK, RECORD_ARGUMENT]),
+    (looks.depth_of_record, [TWO_BOOK, RECORD_ARGUMENT]),
+    (looks.depths_below, [TWO_BOOK]),
+]
+DEPTH_CALLS = [
+    (depths.follows, [HIDDEN_BOOK, CLAUSE_OF_HIDDEN]),
+    (depths.least_following, [HIDDEN_BOOK]),
+    (depths.is_least, [HIDDEN_BOOK, CLAUSE_OF_HIDDEN]),
+    (depths.seen_at, [HIDDEN_BOOK, CLAUSE_OF_HIDDEN]),
+    (depths.depth_of, [HIDDEN_BOOK]),
+    (depths.deepest, [HIDDEN_BOOK]),
+    (depths.is_deepest, [HIDDEN_BOOK, VALUE]),
+    (depths.is_closed, [HIDDEN_BOOK, DEPTH]),
+    (depths.unseen, [HIDDEN_BOOK, ("depth", wrong.InvalidDepth, is_number, 0)]),
+    (depths.all_depths, [HIDDEN_BOOK]),
+    (depths.depths_counted, [HIDDEN_BOOK]),
+    (depths.closing, [HIDDEN_BOOK]),
+    (depths.is_closing, [HIDDEN_BOOK, DEPTH, VALUE]),
+]
+TREE_CALLS = [
+    (trees.is_tree, [TWO_BOOK, VALUE]),
+    (trees.order_of, [TWO_BOOK, TREE_ARGUMENT]),
+    (trees.leaves_of, [TWO_BOOK, TREE_ARGUMENT]),
+    (trees.least_tree, [TWO_BOOK]),
+    (trees.is_least_tree, [TWO_BOOK, VALUE]),
+    (trees.tree_of_record, [TWO_BOOK, RECORD_ARGUMENT]),
+    (trees.record_of_tree, [TWO_BOOK, TREE_ARGUMENT]),
+    (trees.fewest_leaves, [TWO_BOOK]),
+    (trees.fewest_at, [TWO_BOOK, ORDER]),
+    (trees.tree_of_fewest, [TWO_BOOK, ORDER]),
+    (trees.is_tree_of_fewest, [TWO_BOOK, ORDER, VALUE]),
+    (trees.leaves_by_order, [TWO_BOOK]),
+    (trees.leaf_at, [TWO_BOOK, TREE_ARGUMENT, WHOLE]),
+    (trees.asked_on, [TWO_BOOK, TREE_ARGUMENT, WHOLE]),
+    (trees.ways_to_leaves, [TWO_BOOK, TREE_ARGUMENT]),
+    (trees.heights, [TWO_BOOK, TREE_ARGUMENT]),
+    (trees.book_of_tree, [("tree", wrong.InvalidTree, is_tree_apart, ("b", ("a", (), ("z",)), ()))]),
+]
+OPPONENT_CALLS = [
+    (opponents.are_points, [TWO_BOOK, VALUE]),
+    (opponents.points_of, [TWO_BOOK, FAMILY_ARGUMENT]),
+    (opponents.family_for, [TWO_BOOK, POINTS]),
+    (opponents.is_family_for, [TWO_BOOK, POINTS, VALUE]),
+    (opponents.greatest_points, [TWO_BOOK]),
+    (opponents.said, [TWO_BOOK, FAMILY_ARGUMENT, (
+        "part", wrong.InvalidFilling, lambda value: is_part_of_two(value) and value in FAMILY, ("a",)), (
+        "variable", wrong.InvalidVariable, lambda value: value == "b", "b")]),
+    (opponents.played, [TWO_BOOK, FAMILY_ARGUMENT, TREE_ARGUMENT]),
+    (opponents.weakest_places, [TWO_BOOK, FAMILY_ARGUMENT]),
+    (opponents.thinned, [TWO_BOOK, FAMILY_ARGUMENT]),
+    (opponents.is_thinned, [TWO_BOOK, FAMILY_ARGUMENT, VALUE]),
+    (opponents.paper_for, [TWO_BOOK, POINTS]),
+    (opponents.is_paper_for, [TWO_BOOK, ("points", wrong.InvalidNumber, is_number_from_one, 3), VALUE]),
+]
+MODULES = [(clauses, CLAUSE_CALLS), (books, BOOK_CALLS), (looks, LOOK_CALLS), (depths, DEPTH_CALLS),
+           (trees, TREE_CALLS), (opponents, OPPONENT_CALLS)]
+CALLS = [call for _, calls in MODULES for call in calls]
 
 # Calls that are Refused, and the position of the argument that the error holds.
 REFUSED = [
@@ -96,9 +226,37 @@ REFUSED = [
     (books.without_clause, [BOOK, ("b",)], 1),
     (books.side_by_side, [BOOK, Book([("c", "d")])], 1),
     (books.either, [BOOK, Book([("c", "d")]), "e"], 1),
+    (looks.forced, [TWO, 2], 0),
+    (looks.forced, [BOOK, 0], 0),
+    (looks.left_by, [TWO, 3], 0),
+    (looks.record_of, [TWO, 1], 0),
+    (looks.record_of, [HIDDEN, 8], 0),
+    (depths.is_least, [HIDDEN, ("b",)], 1),
+    (depths.seen_at, [HIDDEN, ()], 1),
+    (opponents.family_for, [TWO, 3], 1),
+    (opponents.family_for, [BOOK, 1], 1),
+    (opponents.greatest_points, [BOOK], 0),
+]
+# Calls of what can be filled, and the position of the argument that the error holds.
+FILLED = [
+    (looks.least_depth, [HIDDEN], 0),
+    (looks.least_depth, [Book([])], 0),
+    (looks.depth_at, [HIDDEN, ("b",)], 1),
+    (looks.depth_at, [Book([]), ()], 1),
+    (trees.least_tree, [HIDDEN], 0),
+    (trees.fewest_leaves, [Book([])], 0),
+    (trees.fewest_leaves, [HIDDEN], 0),
+    (trees.fewest_at, [HIDDEN, 0], 0),
+    (trees.fewest_at, [HIDDEN, 8], 0),
+    (trees.tree_of_fewest, [HIDDEN, 0], 0),
+    (trees.tree_of_fewest, [Book([]), 8], 0),
+    (trees.leaves_by_order, [HIDDEN], 0),
+    (trees.leaves_by_order, [Book([])], 0),
+    (opponents.greatest_points, [HIDDEN], 0),
+    (opponents.greatest_points, [Book([])], 0),
 ]
 # One of each kind that is wrong for whatever has an error.
-WRONG = [None, True, 0, "A", ["A"], ("A",), {"A": "a"}]
+WRONG = [None, True, -1, "A", ["A"], ("A",), {"A": "a"}]
 
 
 def right_arguments(rows):
@@ -143,8 +301,9 @@ class RulesTest(unittest.TestCase):
                         try:
                             function(*arguments)
                         except wrong.LookError as caught:
-                            # What the later arguments have to be hangs on the book.
-                            self.assertTrue(error is wrong.InvalidBook or caught.__class__ is wrong.Refused)
+                            # What the later arguments have to be hangs on the book, in `said` on all ahead.
+                            hangs = error is wrong.InvalidBook or function is opponents.said
+                            self.assertTrue(hangs or caught.__class__ in [wrong.Refused, wrong.Filled])
                             self.assertIsNot(caught.__class__, error)
 
     def test_the_first_wrong_argument_decides(self):
@@ -156,16 +315,17 @@ class RulesTest(unittest.TestCase):
                         with self.subTest(function=function.__name__, at=at, first=first, later=later):
                             self.fails(function, arguments, error, first)
 
-    def test_refused_holds_the_named_argument(self):
-        for function, arguments, held in REFUSED:
-            with self.subTest(function=function.__name__, arguments=shown(arguments)):
-                before = shown(arguments)
-                self.fails(function, arguments, wrong.Refused, arguments[held])
-                self.assertEqual(shown(arguments), before)
+    def test_refused_and_filled_hold_the_named_argument(self):
+        for calls, error in [(REFUSED, wrong.Refused), (FILLED, wrong.Filled)]:
+            for function, arguments, held in calls:
+                with self.subTest(function=function.__name__, arguments=shown(arguments)):
+                    before = shown(arguments)
+                    self.fails(function, arguments, error, arguments[held])
+                    self.assertEqual(shown(arguments), before)
 
-    def test_refused_comes_behind_all_other_errors(self):
+    def test_refused_and_filled_come_behind_all_other_errors(self):
         rows_of = {function.__name__: rows for function, rows in CALLS}
-        for function, arguments, _ in REFUSED:
+        for function, arguments, _ in REFUSED + FILLED:
             for at, (_, error, _, _) in enumerate(rows_of[function.__name__]):
                 for value in WRONG:
                     changed = arguments[:at] + [value] + arguments[at + 1:]
@@ -193,6 +353,31 @@ class RulesTest(unittest.TestCase):
         self.fails(clauses.clause_of, [literals], wrong.InvalidClause, literals)
         self.fails(clauses.turned, [("a",), names], wrong.InvalidMap, names)
         self.fails(books.turned_book, [BOOK, names], wrong.InvalidMap, names)
+        self.assertFalse(looks.is_record(TWO, 2, tuple(RECORD)))
+        self.assertFalse(trees.is_tree(TWO, list(TREE)))
+        self.assertFalse(opponents.are_points(TWO, {**FAMILY, ("b",): True}))
+        self.assertFalse(opponents.is_paper_for(TWO, 3, ["tree", TREE]))
+        for true in [True, False]:
+            self.fails(looks.shows, [TWO, true], wrong.InvalidDepth, true)
+            self.fails(trees.fewest_at, [TWO, true], wrong.InvalidNumber, true)
+            self.fails(opponents.family_for, [TWO, true], wrong.InvalidNumber, true)
+
+    def test_judges_take_the_good_ones(self):
+        good = [
+            looks.is_record(TWO, 2, RECORD), depths.is_deepest(HIDDEN, ("-a",)),
+            depths.is_closing(HIDDEN, 1, {("a",): ("b", ("-b",), ("b",))}), trees.is_tree(TWO, TREE),
+            trees.is_least_tree(TWO, TREE), trees.is_tree_of_fewest(TWO, 2, TREE), opponents.are_points(TWO, FAMILY),
+            opponents.is_family_for(TWO, 2, FAMILY), opponents.is_thinned(TWO, FAMILY, FAMILY),
+            opponents.is_paper_for(TWO, 2, ("family", FAMILY)), opponents.is_paper_for(TWO, 3, ("tree", TREE)),
+        ]
+        self.assertEqual(good, [True] * len(good))
+
+    def test_the_order_of_keys_means_nothing(self):
+        for entries in itertools.permutations(FAMILY.items()):
+            family = dict(entries)
+            self.assertTrue(opponents.are_points(TWO, family))
+            self.assertTrue(opponents.is_thinned(TWO, FAMILY, family))
+            self.assertEqual(shown(opponents.thinned(TWO, family)), shown(opponents.thinned(TWO, FAMILY)))
 
     def test_arguments_stay_as_they_were(self):
         for function, rows in CALLS:
@@ -203,13 +388,15 @@ class RulesTest(unittest.TestCase):
 
     def test_what_was_returned_may_be_changed(self):
         for function, rows in CALLS:
-            before = shown(function(*right_arguments(rows)))
-            returned = function(*right_arguments(rows))
-            if isinstance(returned, list):
-                returned.append(None)
-                returned[0] = None
-                returned.reverse()
-            self.assertEqual(shown(function(*right_arguments(rows))), before, function)
+            arguments = right_arguments(rows)
+            passed, told = shown(arguments), shown(function(*arguments))
+            scramble(function(*arguments))
+            self.assertEqual(shown(arguments), passed, function)
+            self.assertEqual(shown(function(*arguments)), told, function)
+
+    def test_keys_ascend(self):
+        for function, rows in CALLS:
+            self.assertTrue(ascends(function(*right_arguments(rows))), function)
 
     def test_lists_of_a_book_may_be_changed(self):
         rows = [("b",), ("a", "b")]
@@ -231,7 +418,7 @@ class RulesTest(unittest.TestCase):
         self.assertEqual(shown([turned, renamed, clause]), told)
 
     def test_all_is_defined_where_the_interface_lists_it(self):
-        for module, calls in [(clauses, CLAUSE_CALLS), (books, BOOK_CALLS)]:
+        for module, calls in MODULES:
             for function, _ in calls:
                 self.assertIs(getattr(module, function.__name__), function)
                 self.assertEqual(function.__module__, module.__name__)

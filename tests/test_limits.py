@@ -1,0 +1,140 @@
+"""Point 3: calls at the limits come to their end, so soon that many of them can be asked in a row."""
+
+import time
+import unittest
+
+from lookdepths.books import Book
+from lookdepths.depths import (
+    all_depths, closing, deepest, depth_of, depths_counted, follows, is_closed, is_closing, is_deepest, is_least,
+    least_following, seen_at, unseen,
+)
+from lookdepths.errors import LookError
+from lookdepths.looks import (
+    clauses_in, depth_at, depth_of_record, depths_below, forced, forced_by, is_record, least_depth, left_by, record_of,
+    shown_literals, shows,
+)
+from lookdepths.opponents import (
+    are_points, family_for, greatest_points, is_family_for, is_paper_for, is_thinned, paper_for, played, points_of, said,
+    thinned, weakest_places,
+)
+from lookdepths.trees import (
+    asked_on, book_of_tree, fewest_at, fewest_leaves, heights, is_least_tree, is_tree, is_tree_of_fewest, leaf_at,
+    leaves_by_order, leaves_of, least_tree, order_of, record_of_tree, tree_of_fewest, tree_of_record, ways_to_leaves,
+)
+from tests.helper import chain, copies, every_row, guests, names_in, pseudo_books, ring, signs
+
+EIGHT = [copies(4, 2), copies(2, 4), copies(1, 8), guests(4, 2), ring(list("abcdefgh")), chain(list("abcdefgh"))]
+SIX = [signs(list("abcd")), ring(list("abcdef")), guests(3, 2), guests(6, 1), *pseudo_books(41, 4, list("abcdef"), 24, 5, 2)]
+FIVE = [*pseudo_books(42, 4, list("abcde"), 24, 5, 2), *pseudo_books(43, 3, list("abcde"), 24, 3, 3),
+        [("a", "b", "c", "d", "e")], signs(list("abcd")) + [("e",)]]
+LOOKS = [(shows, [8]), (forced, [8]), (left_by, [8]), (shown_literals, [8]), (record_of, [8]), (least_depth, []),
+         (depths_below, [])]
+TREES = [(least_tree, []), (fewest_leaves, []), (fewest_at, [8]), (tree_of_fewest, [8]), (leaves_by_order, [])]
+DEPTHS = [(least_following, []), (depth_of, []), (deepest, []), (is_deepest, [()]), (is_closed, [8]), (unseen, [0]),
+          (all_depths, []), (depths_counted, []), (closing, [])]
+# Far more than any of them takes: a call that walks through all trees, or all orders, takes hours.
+SECONDS = 60
+
+
+def asked(function, *arguments):
+    """What a call returns, None if it raises an error of the package."""
+    try:
+        return function(*arguments)
+    except LookError:
+        return None
+
+
+class LimitsTest(unittest.TestCase):
+    def setUp(self):
+        self.begin = time.monotonic()
+
+    def tearDown(self):
+        self.assertLess(time.monotonic() - self.begin, SECONDS)
+
+    def test_looks_and_trees_of_eight_variables(self):
+        for rows in EIGHT + SIX:
+            book = Book(rows)
+            for function, more in LOOKS + TREES:
+                asked(function, book, *more)
+            asked(forced_by, book, 8, book.variables()[::-1])
+        self.assertEqual([least_depth(Book(rows)) for rows in EIGHT], [5, 3, 2, 2, 2, 1])
+        self.assertEqual([fewest_leaves(Book(rows)) for rows in EIGHT[:3] + EIGHT[4:]], [46, 22, 16, 16, 9])
+
+    def test_papers_of_eight_variables(self):
+        for rows in EIGHT:
+            book, tree = Book(rows), least_tree(Book(rows))
+            record = record_of(book, 8)
+            self.assertTrue(is_tree(book, tree) and is_least_tree(book, tree) and is_record(book, 8, record))
+            self.assertTrue(is_tree_of_fewest(book, 8, tree_of_fewest(book, 8)))
+            self.assertEqual(tree_of_record(book, record_of_tree(book, tree)), tree)
+            self.assertEqual(clauses_in(book, record), leaves_of(book, tree_of_record(book, record)))
+            self.assertEqual([depth_of_record(book, record), order_of(book, tree)], [least_depth(book)] * 2)
+            whole = tuple(book.variables())
+            self.assertEqual(len(ways_to_leaves(book, tree)), len(heights(book, tree)))
+            self.assertEqual(leaf_at(book, tree, whole) in rows, bool(asked_on(book, tree, whole)))
+
+    def test_depths_at_all_part_fillings_of_six_variables(self):
+        for rows in SIX[1:3]:
+            book = Book(rows)
+            for part in every_row(names_in(rows)):
+                asked(depth_at, book, part)
+            for clause in every_row(names_in(rows), 3):
+                for function in [follows, is_least, seen_at]:
+                    asked(function, book, clause)
+
+    def test_depths_of_five_variables(self):
+        for rows in FIVE:
+            book = Book(rows)
+            for function, more in DEPTHS:
+                function(book, *more)
+            self.assertTrue(is_closing(book, 8, closing(book)))
+
+    def test_families_of_five_variables(self):
+        for rows in FIVE:
+            book = Book(rows)
+            paper = paper_for(book, 3)
+            self.assertTrue(is_paper_for(book, 3, paper))
+            family = asked(family_for, book, 1)
+            if family is not None:
+                self.assertTrue(are_points(book, family) and is_family_for(book, 1, family))
+                self.assertTrue(is_thinned(book, family, thinned(book, family)))
+            asked(greatest_points, book)
+
+    def test_families_of_nearly_729_part_fillings(self):
+        book = Book(signs(list("abcdef"))[:1])
+        family = family_for(book, 5)
+        self.assertEqual([len(family), points_of(book, family)], [728, 5])
+        for name in book.variables():
+            self.assertIs(said(book, family, (), name), True)
+        self.assertGreater(len(weakest_places(book, family)), 0)
+        self.assertTrue(is_thinned(book, family, thinned(book, family)))
+        book = Book(ring(list("abcdef")))
+        self.assertEqual(played(book, greatest_points(book), least_tree(book))[1], 2)
+
+    def test_trees_of_64_leaves(self):
+        # All places of a full tree ask unlike variables; and a tree of one long way.
+        full, names = [()] * 64, [one + other for one in "abcdefgh" for other in "abcdefgh"]
+        while len(full) > 1:
+            full = [(names.pop(), full[at], full[at + 1]) for at in range(0, len(full), 2)]
+        book = book_of_tree(full[0])
+        self.assertEqual([len(book.clauses()), len(book.variables())], [64, 63])
+        long = ()
+        for name in "abcdefghijklmnopqrstuvwxyz":
+            long = (name, (), long)
+        self.assertEqual(len(book_of_tree(long).clauses()), 27)
+        six = Book(signs(list("abcdef")))
+        tree = least_tree(six)
+        self.assertEqual([order_of(six, tree), leaves_of(six, tree), fewest_leaves(six)], [6, 64, 64])
+        self.assertEqual(tree_of_record(six, record_of_tree(six, tree)), tree)
+
+    def test_many_calls_in_a_row(self):
+        book = Book(copies(2, 3))
+        for depth in range(9):
+            for _ in range(10):
+                shows(book, depth)
+                shown_literals(book, depth)
+        self.assertEqual(leaves_by_order(book), {3: 16})
+
+
+if __name__ == "__main__":
+    unittest.main()
