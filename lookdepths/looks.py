@@ -1,6 +1,6 @@
 """Looking ahead: what it shows at each depth, what it forces, and its records."""
 
-from lookdepths.books import breaks, need_book, need_part, rest
+from lookdepths.books import breaks, need_book, rest
 from lookdepths.clauses import bare, in_order, is_literal, is_variable, opposite
 from lookdepths.errors import Filled, InvalidLook, InvalidVariable, Refused
 from lookdepths.orders import (
@@ -142,8 +142,6 @@ def least_depth(book):
 
 def depth_at(book, part):
     """Return the least depth at which looking shows the rest of a part-filling; Filled with it if it can be filled."""
-    need_book(book)
-    need_part(book, part)
     depth = least_order(rest(book, part))
     if depth is None:
         raise Filled(part)

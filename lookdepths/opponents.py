@@ -181,7 +181,7 @@ def is_thinned(book, family, value):
     """Return whether any object is such a family of entries of a family from which none may be taken out alone."""
     need_book(book)
     need_points(book, family)
-    if not are_points(book, value) or value[()] != family[()]:
+    if not are_points(book, value):
         return False
     return all([value[part] == family.get(part, 0) and not may_go(value, part) for part in value])
 

@@ -21,8 +21,8 @@ SMALL = every_book(["a", "b"], 9)
 CHANCE = (pseudo_books(21, 40, ["a", "b", "c"], 5, 3) + pseudo_books(22, 30, ["a", "b", "c"], 4, 2, 2)
           + pseudo_books(23, 12, ["a", "b", "c", "d"], 8, 3, 2) + pseudo_books(24, 8, ["a", "b", "c", "d"], 14, 3, 2)
           + pseudo_books(25, 4, ["a", "b", "c", "d", "e"], 14, 3, 2) + pseudo_books(26, 2, list("abcde"), 24, 4, 3))
-NAMED = [HIDDEN, FREE, signs(["a", "b", "c"]), ring(["a", "b", "c"]), chain(["a", "b", "c"]), ring(["a", "b", "c"])[:-1],
-         signs(["a", "b", "c"])[:-1], [()], [], [(), ("a",)], [("a",)]]
+NAMED = [HIDDEN, FREE, signs(["a", "b", "c"]), ring(["a", "b", "c"]), chain(["a", "b", "c"]),
+         ring(["a", "b", "c"])[:-1], signs(["a", "b", "c"])[:-1], [()], [], [(), ("a",)], [("a",)]]
 ALL = SMALL + CHANCE + NAMED
 
 
@@ -136,9 +136,9 @@ class DepthTest(unittest.TestCase):
                 self.assertIs(is_deepest(Book(rows), value), right)
 
     def test_edges(self):
-        self.assertEqual([depth_of(Book([])), deepest(Book([])), depths_counted(Book([])), all_depths(Book([]))],
-                         [0, None, [0], {}])
-        self.assertEqual([depth_of(Book([()])), deepest(Book([()])), depths_counted(Book([()])), all_depths(Book([()]))],
+        none, empty = Book([]), Book([()])
+        self.assertEqual([depth_of(none), deepest(none), depths_counted(none), all_depths(none)], [0, None, [0], {}])
+        self.assertEqual([depth_of(empty), deepest(empty), depths_counted(empty), all_depths(empty)],
                          [0, (), [1], {(): 0}])
         self.assertEqual([depth_of(Book(HIDDEN)), deepest(Book(HIDDEN)), depth_of(Book(FREE))], [2, ("-d",), 1])
 
@@ -180,7 +180,8 @@ class ClosingTest(unittest.TestCase):
             self.assertEqual(list(told), least_ones(following(rows)))
             for clause in told:
                 self.assertEqual(told[clause], least_tree(Book(list(left_over(rows, turned_around(clause))))))
-            self.assertEqual([is_closing(book, depth, told) for depth in range(5)], [depth >= deep for depth in range(5)])
+            for depth in range(5):
+                self.assertIs(is_closing(book, depth, told), depth >= deep)
 
     def test_with_a_clause_more_or_less(self):
         for rows in NAMED + CHANCE[:80:5] + SMALL[::20]:
@@ -200,7 +201,8 @@ class ClosingTest(unittest.TestCase):
                         self.assertIs(is_closing(book, 8, {**told, clause: tree}), False)
 
     def test_bent_in_one_place(self):
-        for rows in [FREE, HIDDEN, [("a",), ("-a",)], ring(["a", "b", "c"]), [(), ("a",)], [("a", "b"), ("-b", "a"), ("-a", "c")]]:
+        for rows in [FREE, HIDDEN, [("a",), ("-a",)], ring(["a", "b", "c"]), [(), ("a",)],
+                     [("a", "b"), ("-b", "a"), ("-a", "c")]]:
             book, told, right = Book(rows), closing(Book(rows)), 0
             values = [list(told.items()), tuple(told), None, {}, {**told, None: ()}, {**told, "a": ()}, {**told, 1: ()}]
             for clause in told:

@@ -14,8 +14,8 @@ from lookdepths.looks import (
     shown_literals, shows,
 )
 from lookdepths.opponents import (
-    are_points, family_for, greatest_points, is_family_for, is_paper_for, is_thinned, paper_for, played, points_of, said,
-    thinned, weakest_places,
+    are_points, family_for, greatest_points, is_family_for, is_paper_for, is_thinned, paper_for, played, points_of,
+    said, thinned, weakest_places,
 )
 from lookdepths.trees import (
     asked_on, book_of_tree, fewest_at, fewest_leaves, heights, is_least_tree, is_tree, is_tree_of_fewest, leaf_at,
@@ -24,7 +24,8 @@ from lookdepths.trees import (
 from tests.helper import chain, copies, every_row, guests, names_in, pseudo_books, ring, signs
 
 EIGHT = [copies(4, 2), copies(2, 4), copies(1, 8), guests(4, 2), ring(list("abcdefgh")), chain(list("abcdefgh"))]
-SIX = [signs(list("abcd")), ring(list("abcdef")), guests(3, 2), guests(6, 1), *pseudo_books(41, 4, list("abcdef"), 24, 5, 2)]
+SIX = [signs(list("abcd")), ring(list("abcdef")), guests(3, 2), guests(6, 1),
+       *pseudo_books(41, 4, list("abcdef"), 24, 5, 2)]
 FIVE = [*pseudo_books(42, 4, list("abcde"), 24, 5, 2), *pseudo_books(43, 3, list("abcde"), 24, 3, 3),
         [("a", "b", "c", "d", "e")], signs(list("abcd")) + [("e",)]]
 LOOKS = [(shows, [8]), (forced, [8]), (left_by, [8]), (shown_literals, [8]), (record_of, [8]), (least_depth, []),

@@ -74,7 +74,7 @@ def bent(value, names):
         yield head + [(literal,)] + tail
         yield head + [(literal, within, within)] + tail
         yield head + [(literal, within[-1])] + tail
-        for other in names:
+        for other in [*names, None, 1, [literal], (literal,), Book([])]:
             yield head + [(other, within)] + tail
         for inner in bent(within, names):
             yield head + [(literal, inner)] + tail
@@ -165,7 +165,8 @@ class ForcedTest(unittest.TestCase):
 
     def test_wrong_orders(self):
         book = Book([("a", "b")])
-        for order in [["a"], ["a", "b", "c"], ["a", "a", "b"], ["a", "-b"], ("a", "b"), ["a", ["b"]], None, "ab", [], [1, 2]]:
+        for order in [["a"], ["a", "b", "c"], ["a", "a", "b"], ["a", "-b"], ("a", "b"), ["a", ["b"]], None, "ab", [],
+                      [1, 2]]:
             with self.assertRaises(InvalidVariable) as seen:
                 forced_by(book, 1, order)
             self.assertIs(seen.exception.value, order)

@@ -8,8 +8,8 @@ from lookdepths.errors import (
     Filled, InvalidFilling, InvalidNumber, InvalidPoints, InvalidTree, InvalidVariable, Refused,
 )
 from lookdepths.opponents import (
-    are_points, family_for, greatest_points, is_family_for, is_paper_for, is_thinned, paper_for, played, points_of, said,
-    thinned, weakest_places,
+    are_points, family_for, greatest_points, is_family_for, is_paper_for, is_thinned, paper_for, played, points_of,
+    said, thinned, weakest_places,
 )
 from tests.helper import (
     any_objects, both, can_fill, chain, copies, depths_of_all, every_book, every_plan, every_row, is_leaf, is_plan,
@@ -268,7 +268,8 @@ class ThinnedTest(unittest.TestCase):
                 thinner = [thin, family, *bent(thin, names_in(rows)), *families_of(rows)]
                 for value in thinner:
                     told = is_score(rows, value) and all(family.get(part) == value[part] for part in value)
-                    told = told and value[()] == family[()] and not any(may_be_less(rows, value, part) for part in value)
+                    told = told and value[()] == family[()]
+                    told = told and not any(may_be_less(rows, value, part) for part in value)
                     self.assertIs(is_thinned(book, family, value), told)
 
     def test_fewer_points_are_not_thinned(self):

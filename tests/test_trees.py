@@ -26,9 +26,11 @@ SMALL = every_book(["a", "b"], 9)
 CHANCE = (pseudo_books(11, 60, ["a", "b", "c"], 7, 3) + pseudo_books(12, 40, ["a", "b", "c"], 6, 2)
           + pseudo_books(13, 25, ["a", "b", "c", "d"], 12, 3) + pseudo_books(14, 15, ["a", "b", "c", "d", "e"], 16, 2)
           + pseudo_books(15, 10, ["a", "b", "c", "d", "e"], 10, 2))
-NAMED = [signs(["a"]), TWO, signs(["a", "b", "c"]), signs(["a", "b", "c", "d"]), ring(["a", "b"]), ring(["a", "b", "c"]),
-         ring(["a", "b", "c", "d"]), chain(["a"]), chain(["a", "b", "c", "d"]), copies(1, 3), copies(2, 2), guests(3, 2),
-         APART, APART_BY_TWO, APART_BY_THREE, [()], [(), ("a",)]]
+NAMED = [signs(["a"]), TWO, signs(["a", "b", "c"]), signs(["a", "b", "c", "d"]), ring(["a", "b"]), chain(["a"]),
+         ring(["a", "b", "c"]), ring(["a", "b", "c", "d"]), chain(["a", "b", "c", "d"]), copies(1, 3), copies(2, 2),
+         guests(3, 2), either(Book(signs(["b", "c"])), Book(chain(["d", "e"])), "a").clauses(),
+         either(Book(chain(["d", "e"])), Book(signs(["b", "c"])), "a").clauses(), APART, APART_BY_TWO, APART_BY_THREE,
+         [()], [(), ("a",)]]
 ALL = SMALL + CHANCE + NAMED
 BARRED = [rows for rows in ALL if not can_fill(frozenset(rows))]
 OPEN = [rows for rows in ALL if can_fill(frozenset(rows))]
@@ -298,7 +300,8 @@ class FewestTest(unittest.TestCase):
         self.assertEqual([fewest_leaves(Book(copies(2, 2))), fewest_leaves(Book(signs(list("abcd"))))], [10, 16])
 
     def test_is_tree_of_fewest_of_all_trees(self):
-        for rows in WHOLE + [APART]:
+        # Of a chain of three variables the trees of order 2 have as few leaves as those of order 1.
+        for rows in WHOLE + [APART, chain(["a", "b", "c"])]:
             book, shapes = Book(rows), plan_shapes(rows)
             for plan in plans_of(rows):
                 for order in range(4):
