@@ -7,16 +7,20 @@ from lookdepths.clauses import (
 from lookdepths.errors import (
     InvalidBook, InvalidClauses, InvalidFilling, InvalidLiteral, InvalidMap, InvalidVariable, Refused,
 )
+from lookdepths.marks import Marks
+from lookdepths.tables import Table
 
 
 class Book:
-    """Clauses each of which has to be true. A book never changes."""
+    """Clauses each of which has to be true. A book never changes; what it is asked often is kept beside them."""
 
     def __init__(self, clauses):
         if not isinstance(clauses, list) or not all([is_clause(clause) for clause in clauses]):
             raise InvalidClauses(clauses)
         self._rows = tuple(sorted(set(clauses)))
-        self._names = tuple(sorted({bare(literal) for clause in clauses for literal in clause}))
+        self._names = names_among(clauses)
+        self._marks = None
+        self._table = None
 
     def clauses(self):
         """Return the ascending list of the clauses."""
@@ -26,8 +30,33 @@ class Book:
         """Return the ascending list of the variables that stand in the clauses."""
         return list(self._names)
 
+    def marks(self):
+        """Return the bits of the literals; they are not to be changed."""
+        if self._marks is None:
+            self._marks = Marks(self._rows, self._names)
+        return self._marks
+
+    def table(self):
+        """Return what is told of all part-fillings at once; it is not to be changed."""
+        if self._table is None:
+            self._table = Table(self._rows, self._names)
+        return self._table
+
     def __eq__(self, other):
         return isinstance(other, Book) and self._rows == other._rows
+
+
+def names_among(clauses):
+    """Return the ascending tuple of the variables that stand in some clauses."""
+    return tuple(sorted({bare(literal) for clause in clauses for literal in clause}))
+
+
+def known_book(rows):
+    """Return the book of a list of what surely are clauses, without looking at them again."""
+    book = Book([])
+    book._rows = tuple(sorted(set(rows)))
+    book._names = names_among(rows)
+    return book
 
 
 def need_book(book):
@@ -57,10 +86,7 @@ def need_literal_of(book, literal):
 def is_part(book, value):
     """Return whether any object is a part-filling of a book."""
     need_book(book)
-    if not is_clause(value):
-        return False
-    names = book.variables()
-    return all([bare(literal) in names for literal in value])
+    return book.marks().part_in(value) is not None
 
 
 def breaks(part, clause):
@@ -77,8 +103,16 @@ def rest(book, part):
     """Return the book that is left when the literals of a part-filling are set."""
     need_book(book)
     need_part(book, part)
+    return rest_of(book, part)
+
+
+def rest_of(book, part):
+    """Return the rest of what surely is a part-filling of a book."""
+    if not part:
+        return book
+    gone = [opposite(literal) for literal in part]
     left = [clause for clause in book.clauses() if not keeps(part, clause)]
-    return Book([tuple([literal for literal in clause if opposite(literal) not in part]) for clause in left])
+    return known_book([tuple([literal for literal in clause if literal not in gone]) for clause in left])
 
 
 def broken(book, part):
@@ -105,10 +139,7 @@ def is_filling(book, value):
 def all_parts(book):
     """Return the list of all part-fillings, the shorter ones first, those of one length ascending."""
     need_book(book)
-    parts = [()]
-    for name in book.variables():
-        parts = [part + more for part in parts for more in ((), (name,), (opposite(name),))]
-    return sorted([in_order(part) for part in parts], key=lambda part: (len(part), part))
+    return sorted(book.table().all_parts(), key=lambda part: (len(part), part))
 
 
 def set_also(book, part, literal):
@@ -125,7 +156,7 @@ def shrunk(book):
     """Return the book of the clauses within which there is no other one."""
     need_book(book)
     rows = book.clauses()
-    return Book([clause for clause in rows if not any([row != clause and is_within(row, clause) for row in rows])])
+    return known_book([row for row in rows if not any([less != row and is_within(less, row) for less in rows])])
 
 
 def with_clause(book, clause):
@@ -134,7 +165,7 @@ def with_clause(book, clause):
     need_clause(clause)
     if clause in book.clauses():
         raise Refused(clause)
-    return Book(book.clauses() + [clause])
+    return known_book(book.clauses() + [clause])
 
 
 def without_clause(book, clause):
@@ -143,7 +174,7 @@ def without_clause(book, clause):
     need_clause(clause)
     if clause not in book.clauses():
         raise Refused(clause)
-    return Book([row for row in book.clauses() if row != clause])
+    return known_book([row for row in book.clauses() if row != clause])
 
 
 def turned_book(book, variables):
@@ -152,7 +183,7 @@ def turned_book(book, variables):
     names = book.variables()
     if not is_name_list(variables) or not all([name in names for name in variables]):
         raise InvalidMap(variables)
-    return Book([turned(clause, variables) for clause in book.clauses()])
+    return known_book([turned(clause, variables) for clause in book.clauses()])
 
 
 def renamed_book(book, sent):
@@ -160,7 +191,7 @@ def renamed_book(book, sent):
     need_book(book)
     if not is_renaming(sent) or sorted(sent) != book.variables():
         raise InvalidMap(sent)
-    return Book([renamed(clause, sent) for clause in book.clauses()])
+    return known_book([renamed(clause, sent) for clause in book.clauses()])
 
 
 def need_apart(one, other):
@@ -174,7 +205,7 @@ def side_by_side(one, other):
     """Return the book of the clauses of two books; Refused if they have a variable in common."""
     need_books(one, other)
     need_apart(one, other)
-    return Book(one.clauses() + other.clauses())
+    return known_book(one.clauses() + other.clauses())
 
 
 def pieces(book):
@@ -186,7 +217,7 @@ def pieces(book):
         apart = [group for group in groups if not is_linked(group, clause)]
         groups = apart + [[clause] + [row for group in near for row in group]]
     # No variable is in two pieces, so whole lists compare as their least variables do; the empty list is first.
-    return sorted([Book(group) for group in groups], key=lambda piece: piece.variables())
+    return sorted([known_book(group) for group in groups], key=lambda piece: piece.variables())
 
 
 def is_linked(group, clause):
@@ -202,4 +233,4 @@ def either(one, other, variable):
         raise InvalidVariable(variable)
     need_apart(one, other)
     rows = [in_order(clause + (variable,)) for clause in one.clauses()]
-    return Book(rows + [in_order(clause + (opposite(variable),)) for clause in other.clauses()])
+    return known_book(rows + [in_order(clause + (opposite(variable),)) for clause in other.clauses()])

@@ -6,27 +6,32 @@ surely is a literal, or literals, and are shared with the other files.
 
 from lookdepths.errors import InvalidClause, InvalidLiteral, InvalidMap, Refused
 
-LETTERS = "abcdefghijklmnopqrstuvwxyz"
 MOST_LETTERS = 8
 
 
 def is_variable(value):
     """Return whether any object is a variable."""
-    if not isinstance(value, str) or not 1 <= len(value) <= MOST_LETTERS:
+    if not isinstance(value, str) or len(value) > MOST_LETTERS:
         return False
-    return all([letter in LETTERS for letter in value])
+    # All three are needed: letters of other alphabets and great ones are none here.
+    return value.isascii() and value.isalpha() and value.islower()
 
 
 def is_literal(value):
     """Return whether any object is a literal."""
-    return isinstance(value, str) and is_variable(bare(value))
+    return isinstance(value, str) and is_variable(value.removeprefix("-"))
 
 
 def is_clause(value):
     """Return whether any object is a clause."""
-    if not isinstance(value, tuple) or not are_literals(value):
+    if not isinstance(value, tuple):
         return False
-    return ascends(value) and not has_contraries(value)
+    last = ""
+    for literal in value:
+        if not is_literal(literal) or literal <= last:
+            return False
+        last = literal
+    return not has_contraries(value)
 
 
 def bare(literal):
@@ -58,7 +63,7 @@ def are_literals(values):
 
 def has_contraries(literals):
     """Return whether there are two contrary ones among literals."""
-    return any([opposite(literal) in literals for literal in literals])
+    return any([literal[1:] in literals for literal in literals if literal[0] == "-"])
 
 
 def is_name_list(value):
@@ -143,6 +148,11 @@ def united(one, other):
 def meeting(one, other):
     """Return the variable at which two clauses can be put together, None if there is none."""
     need_clauses(one, other)
+    return meeting_of(one, other)
+
+
+def meeting_of(one, other):
+    """Return the variable at which what surely are two clauses can be put together, None if there is none."""
     clashing = [literal for literal in one if opposite(literal) in other]
     if len(clashing) != 1:
         return None
@@ -154,6 +164,11 @@ def put_together(one, other):
     variable = meeting(one, other)
     if variable is None:
         raise Refused(other)
+    return joined_at(one, other, variable)
+
+
+def joined_at(one, other, variable):
+    """Return the clause of what is left of two clauses that can be put together at a variable."""
     return in_order([literal for literal in one + other if bare(literal) != variable])
 
 

@@ -1,10 +1,12 @@
 """What follows from a book, how deep it lies, and the depth of any book."""
 
-from lookdepths.books import is_part, need_book, rest
+from lookdepths.books import is_part, need_book, rest_of
 from lookdepths.clauses import in_order, opposite
 from lookdepths.errors import InvalidClause, Refused
-from lookdepths.orders import Parts, least_order, least_orders, need_depth, order_by_form
-from lookdepths.trees import is_tree, least_tree
+from lookdepths.looks import order_behind
+from lookdepths.orders import best_tree, need_depth
+from lookdepths.tables import count_in, first_in
+from lookdepths.trees import order_if_tree
 
 
 def contraries(literals):
@@ -18,23 +20,18 @@ def need_clause_of(book, clause):
         raise InvalidClause(clause)
 
 
-def order_behind(book, clause):
-    """Return the least order of a tree of the rest of a clause's contraries, None if the clause does not follow."""
-    return least_order(rest(book, contraries(clause)))
-
-
 def follows(book, clause):
     """Return whether each filling of a book has one of the literals of a clause."""
     need_book(book)
     need_clause_of(book, clause)
-    return order_behind(book, clause) is not None
+    return order_behind(book, contraries(clause)) is not None
 
 
 def seen_at(book, clause):
     """Return the least depth at which looking shows the rest of a clause's contraries; Refused unless it follows."""
     need_book(book)
     need_clause_of(book, clause)
-    depth = order_behind(book, clause)
+    depth = order_behind(book, contraries(clause))
     if depth is None:
         raise Refused(clause)
     return depth
@@ -43,7 +40,7 @@ def seen_at(book, clause):
 def is_least(book, clause):
     """Return whether no clause of some literals alone of a clause that follows does; Refused unless it follows."""
     seen_at(book, clause)
-    return not any([order_behind(book, less) is not None for less in one_less(clause)])
+    return not any([order_behind(book, contraries(less)) is not None for less in one_less(clause)])
 
 
 def one_less(literals):
@@ -51,65 +48,79 @@ def one_less(literals):
     return [literals[:at] + literals[at + 1:] for at in range(len(literals))]
 
 
-def all_depths(book):
-    """Return the dictionary from all part-fillings whose rest can't be filled to the least depths of their rests."""
-    need_book(book)
-    parts = Parts(book)
-    found = list(zip(parts.all_at(), least_orders(parts)))
-    return {part: depth for part, depth in sorted(found, key=lambda pair: pair[0]) if depth is not None}
-
-
-def least_depths(book):
-    """Return the dictionary from the least clauses that follow, ascending, to the depths at which they are seen."""
-    depths = all_depths(book)
-    least = [part for part in depths if not any([less in depths for less in one_less(part)])]
-    return {clause: depths[contraries(clause)] for clause in sorted([contraries(part) for part in least])}
+def least_barred(table):
+    """Return the set of the part-fillings whose rest can't be filled, though it can with any literal less."""
+    return table.barred & ~table.just_above(table.barred)
 
 
 def least_following(book):
     """Return the ascending list of the least clauses that follow."""
-    return list(least_depths(book))
+    need_book(book)
+    return book.table().clauses_in(least_barred(book.table()))
 
 
 def depth_of(book):
     """Return the greatest of the least depths of all rests that can't be filled, 0 if there is none."""
-    return max([0] + list(all_depths(book).values()))
+    need_book(book)
+    return book.table().depth()
+
+
+def just_at(table, depth):
+    """Return the set of the part-fillings of whose rests a depth is the least that shows them."""
+    if depth == 0:
+        return table.ends
+    return table.level(depth) & ~table.level(depth - 1)
 
 
 def deepest(book):
     """Return a part-filling at which the depth of a book is reached, None if no rest is without filling."""
-    depths = all_depths(book)
-    return max(depths, key=lambda part: depths[part], default=None)
+    need_book(book)
+    table = book.table()
+    found = just_at(table, table.depth())
+    return table.part_at(first_in(found)) if found else None
 
 
 def is_deepest(book, value):
     """Return whether any object is a part-filling at which the depth of a book is reached."""
-    depths = all_depths(book)
-    return is_part(book, value) and value in depths and depths[value] == depth_of(book)
+    if not is_part(book, value):
+        return False
+    table = book.table()
+    return just_at(table, table.depth()) >> table.number_of(value) & 1 == 1
 
 
 def is_closed(book, depth):
     """Return whether each clause that follows is seen at a depth or a lesser one."""
-    return not unseen(book, depth)
+    need_book(book)
+    need_depth(depth)
+    return book.table().depth() <= depth
 
 
 def unseen(book, depth):
     """Return the ascending list of the least clauses that follow and are seen at a greater depth."""
     need_book(book)
     need_depth(depth)
-    seen = least_depths(book)
-    return [clause for clause in seen if seen[clause] > depth]
+    table = book.table()
+    return table.clauses_in(least_barred(table) & ~table.level(depth))
+
+
+def all_depths(book):
+    """Return the dictionary from all part-fillings whose rest can't be filled to the least depths of their rests."""
+    need_book(book)
+    table = book.table()
+    parts, orders = table.all_parts(), table.orders()
+    return {parts[number]: orders[number] for number in table.ascending() if orders[number] is not None}
 
 
 def depths_counted(book):
     """Return the list of how many part-fillings whose rest can't be filled have each depth, from 0 on."""
-    depths = list(all_depths(book).values())
-    return [depths.count(depth) for depth in range(depth_of(book) + 1)]
+    need_book(book)
+    table = book.table()
+    return [count_in(just_at(table, depth)) for depth in range(table.depth() + 1)]
 
 
 def closing(book):
     """Return the closing with just the least clauses that follow, with trees of the least order."""
-    return {clause: least_tree(rest(book, contraries(clause))) for clause in least_following(book)}
+    return {clause: best_tree(rest_of(book, contraries(clause))) for clause in least_following(book)}
 
 
 def is_closing(book, depth, value):
@@ -118,12 +129,14 @@ def is_closing(book, depth, value):
     need_depth(depth)
     if not isinstance(value, dict) or not all([is_part(book, clause) for clause in value]):
         return False
-    if not all([is_tree_at_most(rest(book, contraries(clause)), depth, value[clause]) for clause in value]):
+    table = book.table()
+    # A clause with a tree follows: so no rest that can be filled is among what breaks one of them.
+    if table.barred & ~table.broken_by(list(value)):
         return False
-    # A clause with a tree follows; so what breaks a least one of those that follow breaks no other one of them.
-    return all([clause in value for clause in least_following(book)])
+    return all([is_tree_at_most(rest_of(book, contraries(clause)), depth, value[clause]) for clause in value])
 
 
 def is_tree_at_most(book, order, value):
     """Return whether any object is a tree of a book of at most an order."""
-    return is_tree(book, value) and order_by_form(value) <= order
+    reached = order_if_tree(book, value)
+    return reached is not None and reached <= order

@@ -5,10 +5,11 @@ A class with a field keeps in `value` the very argument that was not what its do
 
 
 class LookError(ValueError):
-    """What all errors of the package are derived from."""
+    """What all errors of the package are derived from; each one knows the name of its class."""
 
     def __init__(self):
         ValueError.__init__(self)
+        self.word = self.__class__.__name__
 
 
 class InvalidLiteral(LookError):

@@ -1,10 +1,10 @@
 """Looking ahead: what it shows at each depth, what it forces, and its records."""
 
-from lookdepths.books import breaks, need_book, rest
-from lookdepths.clauses import bare, in_order, is_literal, is_variable, opposite
+from lookdepths.books import need_book, need_part, rest_of
+from lookdepths.clauses import in_order, is_variable, opposite
 from lookdepths.errors import Filled, InvalidLook, InvalidVariable, Refused
 from lookdepths.orders import (
-    Parts, best_tree, least_order, least_orders, need_depth, order_wanted, record_by_form, sets,
+    MOST_AT_ONCE, best_tree, handy_pieces, least_order, need_depth, order_wanted, record_by_form,
 )
 
 
@@ -24,31 +24,37 @@ def forced(book, depth):
     """Return the part-filling of all literals that looking at a depth forces; Refused if it shows the book."""
     need_book(book)
     need_depth(depth)
-    parts = Parts(book)
-    orders = least_orders(parts)
-    if is_seen(orders[0], depth):
+    if is_seen(least_order(book), depth):
         raise Refused(book)
-    chosen = []
-    literal = forced_next(parts, orders, chosen, parts.names, depth)
+    # What is forced in a piece is forced by it alone, as no other one is shown.
+    return in_order([literal for piece in handy_pieces(book) for literal in forced_in(piece.table(), depth)])
+
+
+def forced_in(table, depth):
+    """Return the list of the literals that looking at a depth forces in a book that it does not show."""
+    found = []
+    literal = forced_next(table, 0, table.names, depth)
     while literal is not None:
-        chosen.append(literal)
-        literal = forced_next(parts, orders, chosen, parts.names, depth)
-    return in_order(chosen)
+        found.append(literal)
+        literal = forced_next(table, table.number_of(found), table.names, depth)
+    return found
 
 
-def forced_next(parts, orders, chosen, names, depth):
-    """Return the literal that is forced behind some chosen ones, of the first of some variables, None if none is."""
-    number = parts.number_of(chosen)
+def forced_next(table, number, names, depth):
+    """Return the literal forced behind a part-filling by the first of some variables not set there, None if none is."""
+    lesser = table.level(depth - 1) if depth > 0 else 0
     for name in names:
-        for literal in (name, opposite(name)):
-            if not sets(chosen, name) and is_seen(orders[number + parts.worth[literal]], depth - 1):
-                return opposite(literal)
+        step = table.worth[name]
+        if number // step % 3 == 0 and lesser >> number + step & 1:
+            return opposite(name)
+        if number // step % 3 == 0 and lesser >> number + 2 * step & 1:
+            return name
     return None
 
 
 def left_by(book, depth):
     """Return the rest of what looking at a depth forces; Refused if it shows the book."""
-    return rest(book, forced(book, depth))
+    return rest_of(book, forced(book, depth))
 
 
 def shown_literals(book, depth):
@@ -61,9 +67,14 @@ def shown_literals(book, depth):
 
 def orders_below(book):
     """Return the dictionary from the literals of the book's variables to the least orders of their rests."""
-    parts = Parts(book)
-    orders = least_orders(parts)
-    return {literal: orders[parts.worth[literal]] for literal in sorted(parts.worth)}
+    return {literal: order_behind(book, (literal,)) for literal in sorted(book.marks().bits)}
+
+
+def order_behind(book, part):
+    """Return the least order of a tree of the rest of what surely is a part-filling, None if it can be filled."""
+    if len(book.variables()) > MOST_AT_ONCE:
+        return least_order(rest_of(book, part))
+    return book.table().order_at(book.table().number_of(part))
 
 
 def need_order(book, order):
@@ -79,52 +90,51 @@ def forced_by(book, depth, order):
     need_book(book)
     need_depth(depth)
     need_order(book, order)
-    parts = Parts(book)
-    orders = least_orders(parts)
+    table = book.table()
     chosen = []
     left = book
     while () not in left.clauses():
         # What is gone from the rest is not tried: behind a book that is shown, looking would force it, too.
         names = [name for name in order if name in left.variables()]
-        literal = forced_next(parts, orders, chosen, names, depth)
+        literal = forced_next(table, table.number_of(chosen), names, depth)
         if literal is None:
             return chosen
         chosen.append(literal)
-        left = rest(left, (literal,))
+        left = rest_of(left, (literal,))
     return chosen
 
 
-def record_depth(book, value, part):
+def record_depth(marks, value, way):
     """Return the least depth at which any object is a record behind what is set, None if it is none at any."""
     if not isinstance(value, list) or not value:
         return None
     depth = 0
     for entry in value[:-1]:
-        within = tried_depth(book, entry, part)
+        within = tried_depth(marks, entry, way)
         if within is None:
             return None
         depth = max(depth, within + 1)
-        part = part + (entry[0],)
-    if value[-1] not in book.clauses() or not breaks(part, value[-1]):
-        return None
-    return depth
+        way |= marks.bits[entry[0]]
+    broken = marks.row_in(value[-1])
+    return None if broken is None or broken & way != broken else depth
 
 
-def tried_depth(book, entry, part):
+def tried_depth(marks, entry, way):
     """Return the depth of the record in any object that is a tuple (literal, record), otherwise None."""
-    if not isinstance(entry, tuple) or len(entry) != 2 or not is_literal(entry[0]):
+    if not isinstance(entry, tuple) or len(entry) != 2 or not isinstance(entry[0], str) or entry[0] not in marks.bits:
         return None
-    name = bare(entry[0])
-    if name not in book.variables() or sets(part, name):
+    bit = marks.bits[entry[0]]
+    contrary_bit = marks.contraries(bit)
+    if (bit | contrary_bit) & way:
         return None
-    return record_depth(book, entry[1], part + (opposite(entry[0]),))
+    return record_depth(marks, entry[1], way | contrary_bit)
 
 
 def is_record(book, depth, value):
     """Return whether any object is a record of a look at a depth or a lesser one."""
     need_book(book)
     need_depth(depth)
-    return is_seen(record_depth(book, value, ()), depth)
+    return is_seen(record_depth(book.marks(), value, 0), depth)
 
 
 def record_of(book, depth):
@@ -142,7 +152,9 @@ def least_depth(book):
 
 def depth_at(book, part):
     """Return the least depth at which looking shows the rest of a part-filling; Filled with it if it can be filled."""
-    depth = least_order(rest(book, part))
+    need_book(book)
+    need_part(book, part)
+    depth = order_behind(book, part)
     if depth is None:
         raise Filled(part)
     return depth
@@ -150,7 +162,7 @@ def depth_at(book, part):
 
 def need_record(book, record):
     """Raise InvalidLook unless it is a record at some depth."""
-    if record_depth(book, record, ()) is None:
+    if record_depth(book.marks(), record, 0) is None:
         raise InvalidLook(record)
 
 
@@ -170,7 +182,7 @@ def depth_of_record(book, record):
     """Return the least depth of which a record is one."""
     need_book(book)
     need_record(book, record)
-    return record_depth(book, record, ())
+    return record_depth(book.marks(), record, 0)
 
 
 def depths_below(book):

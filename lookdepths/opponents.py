@@ -1,20 +1,16 @@
 """Opponents: families of part-fillings with points, plays along trees, and papers of both kinds."""
 
-from lookdepths.books import breaks, is_part, need_book
+from lookdepths.books import need_book
 from lookdepths.clauses import in_order, opposite
 from lookdepths.errors import Filled, InvalidFilling, InvalidNumber, InvalidPoints, InvalidVariable, Refused
-from lookdepths.orders import Parts, best_tree, is_count, is_place, least_orders, order_by_form, sets
-from lookdepths.trees import is_tree, need_tree
+from lookdepths.orders import best_tree, is_count, is_place, order_by_form, sets
+from lookdepths.trees import need_tree, order_if_tree
 
 
 def are_points(book, value):
     """Return whether any object is a family with points of a book."""
     need_book(book)
-    if not isinstance(value, dict) or () not in value:
-        return False
-    if not all([is_part(book, part) and is_number(value[part]) for part in value]):
-        return False
-    return not any([ends(book, part) for part in value]) and all([stands(book, value, part) for part in value])
+    return by_points(book.table(), value) is not None
 
 
 def is_number(value):
@@ -22,15 +18,43 @@ def is_number(value):
     return is_count(value) and value > 0
 
 
-def ends(book, part):
-    """Return whether a part-filling breaks a clause."""
-    return any([breaks(part, clause) for clause in book.clauses()])
+def by_points(table, value):
+    """Return the dictionary from points to the sets that have them in a family, None for an object that is none."""
+    groups = grouped(table, value)
+    if groups is None or not any([groups[points] & 1 for points in groups]):
+        return None
+    above = 0
+    for points in sorted(groups, reverse=True):
+        above |= groups[points]
+        if points > 1 and not is_held(table, groups[points], above, above | groups.get(points - 1, 0)):
+            return None
+    return None if above & table.ends else groups
 
 
-def stands(book, family, part):
-    """Return whether a part-filling of a family has an answer to each question."""
-    names = [name for name in book.variables() if not sets(part, name)]
-    return all([is_answered(family, part, name) for name in names])
+def grouped(table, value):
+    """Return the dictionary from points to the sets that have them in any object, None if it is none of this form."""
+    if not isinstance(value, dict):
+        return None
+    numbers = table.numbers()
+    groups = {}
+    for part in value:
+        number, points = numbers.get(part), value[part]
+        if number is None or not is_number(points):
+            return None
+        groups[points] = groups.get(points, 0) | 1 << number
+    return groups
+
+
+def is_held(table, members, above, nearly):
+    """Return whether each of some members has an answer to each question.
+
+    `above` are those with at least as many points as these, `nearly` those with at least one less.
+    """
+    for step, free in table.turns:
+        both = nearly >> step & nearly >> 2 * step
+        if members & free & ~(above >> step | above >> 2 * step | both):
+            return False
+    return True
 
 
 def points_with(family, part, literal):
@@ -38,15 +62,9 @@ def points_with(family, part, literal):
     return family.get(in_order(part + (literal,)), 0)
 
 
-def is_answered(family, part, name):
-    """Return whether one value of a variable keeps the points of a part-filling, or both are one less at most."""
-    high, low = points_with(family, part, name), points_with(family, part, opposite(name))
-    return max(high, low) >= family[part] or min(high, low) >= family[part] - 1
-
-
 def need_points(book, family):
     """Raise InvalidPoints unless it is a family with points of a book."""
-    if not are_points(book, family):
+    if by_points(book.table(), family) is None:
         raise InvalidPoints(family)
 
 
@@ -68,20 +86,25 @@ def capped(book, points):
 
     These are the least depths of their rests; of those that can be filled any number.
     """
-    parts = Parts(book)
-    orders = least_orders(parts)
-    worth = {part: points if order is None else min(order, points) for part, order in zip(parts.all_at(), orders)}
-    return {part: worth[part] for part in sorted(worth) if worth[part] > 0}
+    table = book.table()
+    parts, orders = table.all_parts(), table.orders()
+    worth = [points if order is None else min(order, points) for order in orders]
+    return {parts[number]: worth[number] for number in table.ascending() if worth[number] > 0}
 
 
 def family_for(book, points):
     """Return a family with at least so many points; Refused if there is none."""
     need_book(book)
     need_some(points)
-    family = capped(book, points)
-    if family.get((), 0) < points:
+    if not may_have(book.table(), points):
         raise Refused(points)
-    return family
+    return capped(book, points)
+
+
+def may_have(table, points):
+    """Return whether there is a family with at least so many points."""
+    order = table.order_at(0)
+    return order is None or order >= points
 
 
 def is_family_for(book, points, value):
@@ -94,19 +117,19 @@ def is_family_for(book, points, value):
 def greatest_points(book):
     """Return the family of all part-fillings that may be in one, each with the most points that it may have."""
     need_book(book)
-    if least_orders(Parts(book))[0] is None:
+    order = book.table().order_at(0)
+    if order is None:
         raise Filled(book)
-    if () in book.clauses():
+    if order == 0:
         raise Refused(book)
-    # No tree of a book needs a greater order than the book has variables.
-    return capped(book, len(book.variables()))
+    return capped(book, order)
 
 
 def said(book, family, part, variable):
     """Return which value an opponent sets by a family, None where it says: as you like."""
     need_book(book)
     need_points(book, family)
-    if not is_part(book, part) or part not in family:
+    if book.table().number_in(part) is None or part not in family:
         raise InvalidFilling(part)
     if variable not in book.variables() or sets(part, variable):
         raise InvalidVariable(variable)
@@ -146,53 +169,72 @@ def is_high_taken(tree):
     return order_by_form(tree[1]) <= order_by_form(tree[2])
 
 
-def may_go(family, part):
-    """Return whether a family is one without one of its part-fillings, with as many points for the empty one."""
-    return part != () and all([stands_without(family, part, literal) for literal in part])
+def bound(table, groups):
+    """Return the set of the part-fillings without which some other one of a family, told by points, is not held.
 
-
-def stands_without(family, part, literal):
-    """Return whether the part-filling with one literal less, if it is there, does without this one."""
-    less = tuple([other for other in part if other != literal])
-    points = family.get(less, 0)
-    return points <= 1 or points_with(family, less, opposite(literal)) >= points
+    One value of a variable that keeps the points wants no other one; without it both would have to be there.
+    """
+    found = 1
+    above = 0
+    for points in sorted([points for points in groups if points > 1], reverse=True):
+        above |= groups[points]
+        for step, free in table.turns:
+            asked = groups[points] & free
+            found |= (asked & ~(above >> 2 * step)) << step | (asked & ~(above >> step)) << 2 * step
+    return found
 
 
 def weakest_places(book, family):
     """Return the ascending list of the part-fillings that may be taken out of a family alone."""
     need_book(book)
     need_points(book, family)
-    return [part for part in sorted(family) if may_go(family, part)]
+    groups = by_points(book.table(), family)
+    held = bound(book.table(), groups)
+    return book.table().parts_in(sum(list(groups.values())) & ~held)
 
 
 def thinned(book, family):
     """Return a family of entries of a family, with as many points, from which none may be taken out alone."""
     need_book(book)
     need_points(book, family)
-    left = {part: family[part] for part in sorted(family)}
+    table = book.table()
+    numbers = table.numbers()
+    left = {numbers[part]: family[part] for part in family}
     # Whether one may go hangs on shorter ones and on those of its length, and these, once gone, only bar others.
     for part in sorted(family, key=lambda part: (len(part), part)):
-        if may_go(left, part):
-            del left[part]
-    return left
+        if part != () and may_go(table, left, part):
+            del left[numbers[part]]
+    return {part: family[part] for part in sorted(family) if numbers[part] in left}
+
+
+def may_go(table, left, part):
+    """Return whether those that are left, points by number, are held without a part-filling."""
+    number, worth = table.number_of(part), table.worth
+    return all([stands_without(left, number - worth[literal], worth[opposite(literal)]) for literal in part])
+
+
+def stands_without(left, number, other):
+    """Return whether the part-filling of a number, if it is left, keeps its points by the value of another literal."""
+    points = left.get(number, 0)
+    return points <= 1 or left.get(number + other, 0) >= points
 
 
 def is_thinned(book, family, value):
     """Return whether any object is such a family of entries of a family from which none may be taken out alone."""
     need_book(book)
     need_points(book, family)
-    if not are_points(book, value):
+    groups = by_points(book.table(), value)
+    if groups is None or not all([value[part] == family.get(part) for part in value]):
         return False
-    return all([value[part] == family.get(part, 0) and not may_go(value, part) for part in value])
+    return sum(list(groups.values())) & ~bound(book.table(), groups) == 0
 
 
 def paper_for(book, points):
     """Return a family with at least so many points, if there is one, otherwise a tree of an order below them."""
     need_book(book)
     need_some(points)
-    family = capped(book, points)
-    if family.get((), 0) >= points:
-        return ("family", family)
+    if may_have(book.table(), points):
+        return ("family", capped(book, points))
     return ("tree", best_tree(book))
 
 
@@ -204,4 +246,10 @@ def is_paper_for(book, points, value):
         return False
     if value[0] == "family":
         return is_family_for(book, points, value[1])
-    return value[0] == "tree" and is_tree(book, value[1]) and order_by_form(value[1]) < points
+    return value[0] == "tree" and is_tree_below(book, points, value[1])
+
+
+def is_tree_below(book, points, value):
+    """Return whether any object is a tree of an order below a number."""
+    order = order_if_tree(book, value)
+    return order is not None and order < points

@@ -1,46 +1,72 @@
 """Trees of tried values: their orders and leaves, the least ones, and their records and books."""
 
-from lookdepths.books import Book, breaks, need_book, need_part
+from lookdepths.books import known_book, need_book, need_part
 from lookdepths.clauses import bare, in_order, is_clause, opposite
-from lookdepths.errors import Filled, InvalidFilling, InvalidTree
+from lookdepths.errors import InvalidFilling, InvalidTree
+from lookdepths.leaves import few_leaves, small_tree_at
 from lookdepths.looks import need_record
-from lookdepths.orders import (
-    Parts, best_tree, is_place, least_order, need_number, order_by_form, order_wanted, record_by_form, sets,
-)
+from lookdepths.orders import best_tree, is_place, joined_order, least_order, need_number, order_wanted, record_by_form
 
 
 def is_tree(book, value):
     """Return whether any object is a tree of a book."""
     need_book(book)
-    return is_tree_behind(book, value, ())
+    return order_if_tree(book, value) is not None
 
 
-def is_tree_behind(book, value, part):
-    """Return whether any object is a tree behind what is set."""
-    if not is_place(value):
-        return value in book.clauses() and breaks(part, value)
+def order_if_tree(book, value):
+    """Return the order of any object that is a tree of a book, None if it is none."""
+    return order_behind_way(book.marks(), value, 0)
+
+
+def order_behind_way(marks, value, way):
+    """Return the order of any object that is a tree behind what is set, None if it is none."""
+    if not isinstance(value, tuple):
+        return None
+    if len(value) == 3 and isinstance(value[1], tuple):
+        return place_order(marks, value, way)
+    broken = marks.row_in(value)
+    return None if broken is None or broken & way != broken else 0
+
+
+def place_order(marks, value, way):
+    """Return the order of a tuple of three things that is a tree behind what is set, None if it is none."""
     name, high, low = value
-    if name not in book.variables() or sets(part, name):
-        return False
-    return is_tree_behind(book, high, part + (name,)) and is_tree_behind(book, low, part + (opposite(name),))
+    sides = marks.sides_of(name, way)
+    if sides is None:
+        return None
+    one = order_behind_way(marks, high, way | sides[0])
+    other = None if one is None else order_behind_way(marks, low, way | sides[1])
+    return None if other is None else joined_order(one, other)
 
 
 def need_tree(book, tree):
     """Raise InvalidTree unless it is a tree of a book."""
-    if not is_tree(book, tree):
+    if order_if_tree(book, tree) is None:
         raise InvalidTree(tree)
 
 
 def order_of(book, tree):
     """Return the order of a tree."""
     need_book(book)
-    need_tree(book, tree)
-    return order_by_form(tree)
+    order = order_if_tree(book, tree)
+    if order is None:
+        raise InvalidTree(tree)
+    return order
 
 
 def leaves_of(book, tree):
     """Return how many leaves a tree has."""
-    return len(heights(book, tree))
+    need_book(book)
+    need_tree(book, tree)
+    return leaves_by_form(tree)
+
+
+def leaves_by_form(tree):
+    """Return how many leaves a tree has."""
+    if not is_place(tree):
+        return 1
+    return leaves_by_form(tree[1]) + leaves_by_form(tree[2])
 
 
 def least_tree(book):
@@ -51,7 +77,9 @@ def least_tree(book):
 
 def is_least_tree(book, value):
     """Return whether any object is a tree of the least order."""
-    return is_tree(book, value) and order_by_form(value) == least_order(book)
+    need_book(book)
+    order = order_if_tree(book, value)
+    return order is not None and order == least_order(book)
 
 
 def tree_of_record(book, record):
@@ -79,45 +107,12 @@ def record_of_tree(book, tree):
     return record_by_form(tree)
 
 
-def fewest_at_all(parts, lesser):
-    """Return, for each number, the fewest leaves of a tree of the rest, above `parts.many` where there is none.
-
-    Of the two trees of a place one is of those that `lesser` counts, so that the order grows by one at most; without
-    `lesser` all trees count.
-    """
-    table = [parts.many + 1] * parts.many
-    beside = table if lesser is None else lesser
-    for number in reversed(range(parts.many)):
-        if parts.ends[number]:
-            table[number] = 1
-        else:
-            sums = [fewest_sides(table, beside, number, step) for step in parts.open_steps(number)]
-            table[number] = min([parts.many + 1] + sums)
-    return table
-
-
-def fewest_sides(table, beside, number, step):
-    """Return the fewest leaves of two trees together that are asked for at a number by a step, one of `beside`."""
-    high, low = number + step, number + 2 * step
-    return min(table[high] + beside[low], beside[high] + table[low])
-
-
-def fewest_tables(parts, order):
-    """Return the list of what `fewest_at_all` tells of the trees of at most each order, from 0 to at most a number."""
-    tables = [fewest_at_all(parts, [parts.many + 1] * parts.many)]
-    for _ in range(min(order, len(parts.names))):
-        tables.append(fewest_at_all(parts, tables[-1]))
-    return tables
-
-
 def fewest_leaves(book):
     """Return the least number of leaves of any tree; Filled if the book can be filled."""
     need_book(book)
-    parts = Parts(book)
-    fewest = leaves_told(parts, fewest_at_all(parts, None))
-    if fewest is None:
-        raise Filled(book)
-    return fewest
+    order_wanted(book)
+    # No tree has a greater order than the book has variables.
+    return few_leaves(book.table(), len(book.variables()))
 
 
 def fewest_at(book, order):
@@ -125,57 +120,36 @@ def fewest_at(book, order):
     need_book(book)
     need_number(order)
     order_wanted(book)
-    parts = Parts(book)
-    return leaves_told(parts, fewest_tables(parts, order)[-1])
-
-
-def leaves_told(parts, table):
-    """Return the fewest leaves of trees of the whole book by a table, None if there is none."""
-    return table[0] if table[0] <= parts.many else None
+    return few_leaves(book.table(), order)
 
 
 def tree_of_fewest(book, order):
     """Return a tree of at most an order with the fewest leaves, None if there is none; Filled if it can be."""
-    need_book(book)
-    need_number(order)
-    order_wanted(book)
-    parts = Parts(book)
-    tables = fewest_tables(parts, order)
-    if leaves_told(parts, tables[-1]) is None:
+    if fewest_at(book, order) is None:
         return None
-    return small_tree_at(parts, tables, 0)
-
-
-def small_tree_at(parts, tables, number):
-    """Return a tree with the fewest leaves, of at most the order of the last table, behind the part of a number."""
-    if parts.ends[number]:
-        return parts.broken_at(number)
-    table, lesser = tables[-1], tables[-2]
-    step = min(parts.open_steps(number), key=lambda at: fewest_sides(table, lesser, number, at))
-    high, low = number + step, number + 2 * step
-    if table[high] + lesser[low] == table[number]:
-        sides = (small_tree_at(parts, tables, high), small_tree_at(parts, tables[:-1], low))
-    else:
-        sides = (small_tree_at(parts, tables[:-1], high), small_tree_at(parts, tables, low))
-    return (parts.name_of(step),) + sides
+    return small_tree_at(book, order, 0, 0)
 
 
 def is_tree_of_fewest(book, order, value):
     """Return whether any object is a tree of at most an order with the fewest leaves of such."""
     need_book(book)
     need_number(order)
-    if not is_tree(book, value) or order_by_form(value) > order:
+    reached = order_if_tree(book, value)
+    if reached is None or reached > order:
         return False
-    return leaves_of(book, value) == fewest_at(book, order)
+    return leaves_by_form(value) == few_leaves(book.table(), order)
 
 
 def leaves_by_order(book):
     """Return the dictionary from the orders, the least one first, to the fewest leaves, till these are least of all."""
     fewest = fewest_leaves(book)
-    parts = Parts(book)
-    counts = [leaves_told(parts, table) for table in fewest_tables(parts, len(parts.names))]
-    last = counts.index(fewest)
-    return {order: counts[order] for order in range(last + 1) if counts[order] is not None}
+    table = book.table()
+    counts = {}
+    order = table.order_at(0)
+    while fewest not in list(counts.values()):
+        counts[order] = few_leaves(table, order)
+        order += 1
+    return counts
 
 
 def need_whole(book, part):
@@ -247,4 +221,4 @@ def book_of_tree(tree):
     """Return the book of a tree by its form that asks no variable at two places: a clause for each leaf."""
     if not asks_apart(tree, []):
         raise InvalidTree(tree)
-    return Book([in_order([opposite(literal) for literal in way]) for way in ways_behind(tree, ())])
+    return known_book([in_order([opposite(literal) for literal in way]) for way in ways_behind(tree, ())])

@@ -93,6 +93,67 @@ tree = ("a", ("b", ("-a", "-b"), ("-a", "b")), ("b", ("-b", "a"), ("a", "b")))
 # [([('a', True, True), ('b', True, True)], 2), False, True]
 """
 
+JOINS = """\
+from lookdepths.books import Book
+from lookdepths.joins import broad_family, clauses_by, closed_family, is_ending, least_one_sided, least_width, made_with, makes, partners, points_of_broad, width_of
+from lookdepths.looks import least_depth
+two = Book([("a", "b"), ("-b", "a"), ("-a", "b"), ("-a", "-b")])
+line = [("a", "b"), ("-b", "a"), (0, 1, "b"), ("-a", "b"), ("-a", "-b"), (3, 4, "b"), (2, 5, "a")]
+[partners(two, ("a", "b")), made_with(two, ("a", "b")), clauses_by(two, line)[2:], width_of(two, line), is_ending(two, 1, line)]
+# [[('-a', 'b'), ('-b', 'a')], [('a',), ('b',)], [('a',), ('-a', 'b'), ('-a', '-b'), ('-a',), ()], 1, True]
+[least_width(two), least_one_sided(two), closed_family(two, 0), len(makes(two, 1))]
+# [1, 2, [(), ('-a',), ('-b',), ('a',), ('b',)], 9]
+ring = Book([("-b", "a"), ("-a", "b"), ("-c", "b"), ("-b", "c"), ("a", "c"), ("-a", "-c")])
+[least_width(ring), least_one_sided(ring), len(closed_family(ring, 1)), broad_family(ring, 1) == closed_family(ring, 1), points_of_broad(two, 1)]
+# [2, 2, 13, True, {(): 2, ('-a',): 1, ('-b',): 1, ('a',): 1, ('b',): 1}]
+alike = Book([("a", "c"), ("-a", "-c"), ("b", "d"), ("-b", "-d"), ("-c", "-d", "a", "b"), ("-b", "-c", "a", "d"), ("-a", "-d", "b", "c"), ("-a", "-b", "c", "d")])
+[least_depth(alike), least_one_sided(alike), least_width(alike), len(broad_family(alike, 1))]
+# [3, 2, 3, 45]
+lone = Book([("a",)])
+[broad_family(lone, 1), closed_family(lone, 1), points_of_broad(lone, 1), points_of_broad(ring, 1)]
+# [[('a',)], [(), ('a',)], {(): 2, ('a',): 2}, {(): 2, ('-a',): 1, ('-b',): 1, ('-c',): 1, ('a',): 1, ('b',): 1, ('c',): 1}]
+"""
+
+FILLINGS = """\
+from lookdepths.books import Book
+from lookdepths.fillings import any_trap, fillings_of, first_way, goes_through, is_way, looks_used, many_fillings, may_set, sure_depth, sure_literals, traps
+hidden = Book([("a", "b", "d"), ("-b", "a", "d"), ("-a", "b", "d"), ("-a", "-b", "d")])
+[many_fillings(hidden), sure_literals(hidden), may_set(hidden, (), 1) == ["-a", "-b", "-d", "a", "b", "d"], may_set(hidden, ("-d",), 1), may_set(hidden, (), 2)]
+# [4, ['d'], True, [], ['-a', '-b', 'a', 'b', 'd']]
+[traps(hidden, 1), goes_through(hidden, 1), goes_through(hidden, 2), sure_depth(hidden), first_way(hidden, (), 2), is_way(hidden, (), 1, ["-d"])]
+# [[('-d',)], False, True, 3, ['-a', '-b', 'd'], True]
+free = Book([("a", "b", "c"), ("-a", "b"), ("-b", "c")])
+[fillings_of(free), any_trap(free, 0) is None, first_way(free, (), 1), looks_used(free, (), 1), may_set(Book([("a", "b")]), ("a",), 0)]
+# [[('-a', '-b', 'c'), ('-a', 'b', 'c'), ('a', 'b', 'c')], False, ['-a', '-b', 'c'], [5, 3, 1], ['-b', 'b']]
+"""
+
+MAKES = """\
+from lookdepths.books import Book
+from lookdepths.makes import book_of, depth_told, is_short, is_single, leaves_told, widths_told
+[book_of(("signs", 2)).clauses(), book_of(("chain", 3)).clauses()]
+# [[('-a', '-b'), ('-a', 'b'), ('-b', 'a'), ('a', 'b')], [('-a', 'b'), ('-b', 'c'), ('-c',), ('a',)]]
+[book_of(("ring", 3)).clauses(), book_of(("guests", 2, 1)).clauses()]
+# [[('-a', '-c'), ('-a', 'b'), ('-b', 'a'), ('-b', 'c'), ('-c', 'b'), ('a', 'c')], [('-aa', '-ba'), ('aa',), ('ba',)]]
+[depth_told(("signs", 4)), leaves_told(("ring", 5)), widths_told(("signs", 3)), depth_told(("guests", 4, 3)), is_short(book_of(("ring", 3))), is_single(book_of(("chain", 3)))]
+# [4, 10, (2, 3), 3, True, True]
+[depth_told(("copies", 2, 2)), leaves_told(("copies", 2, 2)), widths_told(("copies", 2, 2)), book_of(("copies", 1, 3)).clauses()]
+# [3, 10, (3, 2), [('-aa', '-ab', '-ac'), ('-aa', 'ab'), ('-ab', 'ac'), ('-ac', 'aa'), ('aa', 'ab', 'ac')]]
+"""
+
+PARTS = """\
+from lookdepths.books import Book
+from lookdepths.makes import book_of
+from lookdepths.parts import any_core, cores, depth_beside, depth_by_pieces, depths_of_values, first_places, is_core, keeping_literals, splitting_variables
+signs = book_of(("signs", 2))
+more = Book(signs.clauses() + [("a",)])
+[cores(more), is_core(more, signs.clauses()), any_core(Book([("a",)]))]
+# [[[('-a', '-b'), ('-a', 'b'), ('-b', 'a'), ('a', 'b')], [('-a', '-b'), ('-a', 'b'), ('a',)]], True, None]
+[splitting_variables(signs), keeping_literals(signs), first_places(signs), depths_of_values(more, "a"), keeping_literals(more)]
+# [['a', 'b'], [], ['a', 'b'], (1, 0), ['-b', 'a', 'b']]
+[depth_beside(signs, Book([("x",), ("-x",)])), depth_beside(signs, Book([("x",)])), depth_by_pieces(Book(signs.clauses() + [("x",), ("-x",)]))]
+# [1, 2, 1]
+"""
+
 
 class ExamplesTest(unittest.TestCase):
     def check(self, block):
@@ -125,6 +186,18 @@ class ExamplesTest(unittest.TestCase):
 
     def test_opponents(self):
         self.check(OPPONENTS)
+
+    def test_joins(self):
+        self.check(JOINS)
+
+    def test_fillings(self):
+        self.check(FILLINGS)
+
+    def test_makes(self):
+        self.check(MAKES)
+
+    def test_parts(self):
+        self.check(PARTS)
 
 
 if __name__ == "__main__":

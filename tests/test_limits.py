@@ -9,13 +9,27 @@ from lookdepths.depths import (
     least_following, seen_at, unseen,
 )
 from lookdepths.errors import LookError
+from lookdepths.fillings import (
+    any_filling, any_trap, fillings_of, first_way, goes_through, is_trap, is_way, looks_used, many_fillings, may_set,
+    sure_depth, sure_literals, traps,
+)
+from lookdepths.joins import (
+    broad_family, clauses_by, closed_family, ending, ending_by_record, is_broad_family, is_closed_family, is_derivation,
+    is_ending, is_ending_by_record, least_one_sided, least_width, made_with, makes, one_sided_ending, one_sided_makes,
+    one_sided_of, partners, points_of_broad, width_of,
+)
 from lookdepths.looks import (
     clauses_in, depth_at, depth_of_record, depths_below, forced, forced_by, is_record, least_depth, left_by, record_of,
     shown_literals, shows,
 )
+from lookdepths.makes import book_of, points_told, tree_told
 from lookdepths.opponents import (
     are_points, family_for, greatest_points, is_family_for, is_paper_for, is_thinned, paper_for, played, points_of,
     said, thinned, weakest_places,
+)
+from lookdepths.parts import (
+    any_core, core_depths, cores, depth_beside, depth_by_pieces, depths_of_values, first_places, is_core,
+    keeping_literals, needed_clauses, splitting_variables,
 )
 from lookdepths.trees import (
     asked_on, book_of_tree, fewest_at, fewest_leaves, heights, is_least_tree, is_tree, is_tree_of_fewest, leaf_at,
@@ -34,7 +48,7 @@ TREES = [(least_tree, []), (fewest_leaves, []), (fewest_at, [8]), (tree_of_fewes
 DEPTHS = [(least_following, []), (depth_of, []), (deepest, []), (is_deepest, [()]), (is_closed, [8]), (unseen, [0]),
           (all_depths, []), (depths_counted, []), (closing, [])]
 # Far more than any of them takes: a call that walks through all trees, or all orders, takes hours.
-SECONDS = 60
+SECONDS = 20
 
 
 def asked(function, *arguments):
@@ -127,6 +141,75 @@ class LimitsTest(unittest.TestCase):
         tree = least_tree(six)
         self.assertEqual([order_of(six, tree), leaves_of(six, tree), fewest_leaves(six)], [6, 64, 64])
         self.assertEqual(tree_of_record(six, record_of_tree(six, tree)), tree)
+
+    def test_widths_of_five_variables(self):
+        for rows in FIVE + [*pseudo_books(44, 4, list("abcde"), 24, 3, 2), *pseudo_books(45, 4, list("abcde"), 12, 2, 2)]:
+            for width in [*range(6), 60]:
+                book = Book(rows)
+                self.assertLessEqual(len(makes(book, width)), 243)
+                self.assertLessEqual(len(one_sided_makes(book, width)), 243)
+                for function in [ending, one_sided_ending, made_with, partners]:
+                    asked(function, book, ("a",) if function in [made_with, partners] else width)
+            lines = asked(ending, book, asked(least_width, book))
+            if lines is not None:
+                self.assertTrue(is_derivation(book, lines) and is_ending(book, least_width(book), lines))
+                self.assertLessEqual(one_sided_of(book, lines), width_of(book, lines) + 1)
+                self.assertEqual(clauses_by(book, lines)[-1], ())
+                record = record_of(book, 8)
+                self.assertTrue(is_ending_by_record(book, record, ending_by_record(book, record)))
+                self.assertLessEqual(least_one_sided(book), least_depth(book))
+
+    def test_records_of_eight_variables_make_derivations(self):
+        for rows in EIGHT + SIX[:4]:
+            book = Book(rows)
+            record = record_of(book, 8)
+            self.assertTrue(is_ending_by_record(book, record, ending_by_record(book, record)))
+
+    def test_broad_and_closed_families_of_four_variables(self):
+        for rows in [*pseudo_books(46, 10, list("abcd"), 8, 3, 2), *pseudo_books(47, 10, list("abcd"), 20, 4, 3),
+                     [("a", "b", "c", "d")], ring(list("abcd")), signs(list("abcd"))[:15]]:
+            for width in [*range(5), 60]:
+                book = Book(rows)
+                for told, judge in [(closed_family, is_closed_family), (broad_family, is_broad_family)]:
+                    family = asked(told, book, width)
+                    self.assertTrue(family is None or judge(book, width, family))
+                    self.assertFalse(judge(book, width, [] if family is None else family[::-1] + family))
+                points = asked(points_of_broad, book, width)
+                self.assertTrue(points is None or are_points(book, points))
+
+    def test_fillings_and_solving_of_five_variables(self):
+        for rows in FIVE:
+            book = Book(rows)
+            for function in [fillings_of, many_fillings, any_filling, sure_literals, sure_depth]:
+                asked(function, book)
+            for depth in range(9):
+                self.assertIs(goes_through(book, depth), traps(book, depth) == [])
+                self.assertIs(is_trap(book, depth, any_trap(book, depth)), any_trap(book, depth) is not None)
+                for part in every_row(names_in(rows), 2):
+                    self.assertTrue(is_way(book, part, depth, first_way(book, part, depth)))
+                    self.assertGreaterEqual(len(may_set(book, part, depth)), len(looks_used(book, part, depth)) > 0)
+
+    def test_makes_of_many_variables(self):
+        for make in [("signs", 6), ("ring", 8), ("chain", 8), ("copies", 4, 2), ("copies", 1, 8), ("guests", 4, 2),
+                     ("guests", 8, 1)]:
+            self.assertTrue(is_least_tree(book_of(make), tree_told(make)))
+        self.assertEqual(len(points_told(("signs", 6))), 665)
+
+    def test_parts_of_books(self):
+        some = [*pseudo_books(48, 6, list("abcde"), 10, 3), *pseudo_books(49, 6, list("abcd"), 10, 2),
+                signs(list("abc")) + [("d",), ("-d",)], [row for row in every_row(["a"])] + signs(["b", "c"])]
+        for rows in some:
+            book = Book(rows)
+            for function in [cores, core_depths, needed_clauses, keeping_literals, splitting_variables, first_places]:
+                asked(function, book)
+            for core in cores(book):
+                self.assertTrue(is_core(book, core))
+            asked(depths_of_values, book, "a")
+            self.assertEqual(depth_by_pieces(book), depth_of(book))
+            depth_beside(book, Book([("x", "y")]))
+        for rows in FIVE + SIX + EIGHT:
+            core = any_core(Book(rows))
+            self.assertTrue(core is None or is_core(Book(rows), core))
 
     def test_many_calls_in_a_row(self):
         book = Book(copies(2, 3))

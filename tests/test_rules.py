@@ -3,11 +3,11 @@
 import itertools
 import unittest
 
-from lookdepths import books, clauses, depths, looks, opponents, trees
+from lookdepths import books, clauses, depths, fillings, joins, looks, makes, opponents, parts, trees
 from lookdepths import errors as wrong
 from lookdepths.books import Book
 from tests.helper import (
-    any_objects, ascends, is_book, is_look, is_name, is_names, is_plan, is_row, is_rows, is_score, is_sent,
+    against, any_objects, ascends, is_book, is_look, is_name, is_names, is_plan, is_row, is_rows, is_score, is_sent,
     is_signed_name, parameters, scramble, shown,
 )
 
@@ -211,8 +211,116 @@ OPPONENT_CALLS = [
     (opponents.paper_for, [TWO_BOOK, POINTS]),
     (opponents.is_paper_for, [TWO_BOOK, ("points", wrong.InvalidNumber, is_number_from_one, 3), VALUE]),
 ]
+
+# A derivation from TWO that ends, a make, and books side by side.
+LINES = [("a", "b"), ("-b", "a"), (0, 1, "b"), ("-a", "b"), ("-a", "-b"), (3, 4, "b"), (2, 5, "a")]
+CLOSED = [(), ("-a",), ("-b",), ("a",), ("b",)]
+
+
+def is_derivation_of_two(value):
+    """Whether any object is a derivation from TWO."""
+    clauses_so_far = []
+    for line in value if isinstance(value, list) else [None]:
+        if is_row(line) and line in TWO.clauses():
+            clauses_so_far.append(line)
+            continue
+        if not isinstance(line, tuple) or len(line) != 3 or line[2] not in ["a", "b"]:
+            return False
+        if not all(is_number(at) and at < len(clauses_so_far) for at in line[:2]):
+            return False
+        one, other = [clauses_so_far[at] for at in line[:2]]
+        if {literal.strip("-") for literal in one if against(literal) in other} != {line[2]}:
+            return False
+        clauses_so_far.append(tuple(sorted({literal for literal in one + other if literal.strip("-") != line[2]})))
+    return True
+
+
+def is_told_make(value):
+    """Whether any object is a make of which all is told, within the limits."""
+    kinds = {"signs": (1,), "ring": (2,), "chain": (1,), "copies": (1, 1), "guests": (1, 1)}
+    if not isinstance(value, tuple) or not value or not isinstance(value[0], str) or value[0] not in kinds:
+        return False
+    least = kinds[value[0]]
+    if len(value) != len(least) + 1 or not all(is_number(many) for many in value[1:]):
+        return False
+    fits = all(low <= many <= 26 for low, many in zip(least, value[1:]))
+    return fits and (value[0] != "guests" or value[1] > value[2])
+
+
+def is_told_in_full(value):
+    return is_told_make(value) and value[0] != "guests"
+
+
+WIDTH = ("width", wrong.InvalidNumber, is_number, 2)
+NO_WIDTH = ("width", wrong.InvalidNumber, is_number, 0)
+DERIVATION = ("derivation", wrong.InvalidDerivation, is_derivation_of_two, LINES)
+PART_OF_HIDDEN = ("part", wrong.InvalidFilling, is_part_of_two, ())
+MAKE = ("make", wrong.InvalidMake, is_told_make, ("copies", 1, 2))
+FULL_MAKE = ("make", wrong.InvalidMake, is_told_in_full, ("ring", 3))
+JOIN_CALLS = [
+    (joins.partners, [TWO_BOOK, ("clause", wrong.InvalidClause, is_row, ("a", "z"))]),
+    (joins.made_with, [TWO_BOOK, ("clause", wrong.InvalidClause, is_row, ("a", "b"))]),
+    (joins.is_derivation, [TWO_BOOK, VALUE]),
+    (joins.clauses_by, [TWO_BOOK, DERIVATION]),
+    (joins.width_of, [TWO_BOOK, DERIVATION]),
+    (joins.one_sided_of, [TWO_BOOK, DERIVATION]),
+    (joins.makes, [TWO_BOOK, WIDTH]),
+    (joins.one_sided_makes, [TWO_BOOK, WIDTH]),
+    (joins.least_width, [TWO_BOOK]),
+    (joins.least_one_sided, [TWO_BOOK]),
+    (joins.ending, [TWO_BOOK, WIDTH]),
+    (joins.is_ending, [TWO_BOOK, WIDTH, VALUE]),
+    (joins.one_sided_ending, [TWO_BOOK, WIDTH]),
+    (joins.is_one_sided_ending, [TWO_BOOK, WIDTH, VALUE]),
+    (joins.is_closed_family, [TWO_BOOK, WIDTH, VALUE]),
+    (joins.closed_family, [TWO_BOOK, NO_WIDTH]),
+    (joins.is_broad_family, [TWO_BOOK, WIDTH, VALUE]),
+    (joins.broad_family, [TWO_BOOK, NO_WIDTH]),
+    (joins.ending_by_record, [TWO_BOOK, RECORD_ARGUMENT]),
+    (joins.is_ending_by_record, [TWO_BOOK, RECORD_ARGUMENT, VALUE]),
+    (joins.points_of_broad, [TWO_BOOK, ("width", wrong.InvalidNumber, is_number, 1)]),
+]
+FILLING_CALLS = [
+    (fillings.fillings_of, [HIDDEN_BOOK]),
+    (fillings.many_fillings, [HIDDEN_BOOK]),
+    (fillings.any_filling, [HIDDEN_BOOK]),
+    (fillings.sure_literals, [HIDDEN_BOOK]),
+    (fillings.may_set, [HIDDEN_BOOK, PART_OF_HIDDEN, DEPTH]),
+    (fillings.first_way, [HIDDEN_BOOK, PART_OF_HIDDEN, DEPTH]),
+    (fillings.is_way, [HIDDEN_BOOK, PART_OF_HIDDEN, DEPTH, VALUE]),
+    (fillings.goes_through, [HIDDEN_BOOK, DEPTH]),
+    (fillings.traps, [HIDDEN_BOOK, ("depth", wrong.InvalidDepth, is_number, 0)]),
+    (fillings.any_trap, [HIDDEN_BOOK, ("depth", wrong.InvalidDepth, is_number, 0)]),
+    (fillings.is_trap, [HIDDEN_BOOK, ("depth", wrong.InvalidDepth, is_number, 0), VALUE]),
+    (fillings.sure_depth, [HIDDEN_BOOK]),
+    (fillings.looks_used, [HIDDEN_BOOK, PART_OF_HIDDEN, DEPTH]),
+]
+MAKE_CALLS = [
+    (makes.book_of, [MAKE]),
+    (makes.depth_told, [MAKE]),
+    (makes.leaves_told, [FULL_MAKE]),
+    (makes.widths_told, [FULL_MAKE]),
+    (makes.tree_told, [MAKE]),
+    (makes.points_told, [MAKE]),
+    (makes.is_short, [TWO_BOOK]),
+    (makes.is_single, [TWO_BOOK]),
+]
+PARTS_CALLS = [
+    (parts.depth_beside, [("one", wrong.InvalidBook, is_book, TWO), ("other", wrong.InvalidBook, is_book, APART)]),
+    (parts.depth_by_pieces, [TWO_BOOK]),
+    (parts.cores, [TWO_BOOK]),
+    (parts.any_core, [TWO_BOOK]),
+    (parts.is_core, [TWO_BOOK, VALUE]),
+    (parts.core_depths, [TWO_BOOK]),
+    (parts.needed_clauses, [TWO_BOOK]),
+    (parts.depths_of_values, [TWO_BOOK, ("variable", wrong.InvalidVariable, lambda value: value in ["a", "b"], "b")]),
+    (parts.keeping_literals, [TWO_BOOK]),
+    (parts.splitting_variables, [TWO_BOOK]),
+    (parts.first_places, [TWO_BOOK]),
+]
 MODULES = [(clauses, CLAUSE_CALLS), (books, BOOK_CALLS), (looks, LOOK_CALLS), (depths, DEPTH_CALLS),
-           (trees, TREE_CALLS), (opponents, OPPONENT_CALLS)]
+           (trees, TREE_CALLS), (opponents, OPPONENT_CALLS), (joins, JOIN_CALLS), (fillings, FILLING_CALLS),
+           (makes, MAKE_CALLS), (parts, PARTS_CALLS)]
 CALLS = [call for _, calls in MODULES for call in calls]
 
 # Calls that are Refused, and the position of the argument that the error holds.
@@ -236,6 +344,20 @@ REFUSED = [
     (opponents.family_for, [TWO, 3], 1),
     (opponents.family_for, [BOOK, 1], 1),
     (opponents.greatest_points, [BOOK], 0),
+    (joins.ending, [TWO, 0], 1),
+    (joins.ending, [HIDDEN, 60], 1),
+    (joins.one_sided_ending, [TWO, 1], 1),
+    (joins.one_sided_ending, [Book([]), 0], 1),
+    (joins.closed_family, [TWO, 1], 1),
+    (joins.closed_family, [BOOK, 0], 1),
+    (joins.broad_family, [TWO, 2], 1),
+    (joins.broad_family, [BOOK, 0], 1),
+    (joins.points_of_broad, [TWO, 2], 1),
+    (fillings.sure_literals, [TWO], 0),
+    (fillings.sure_depth, [TWO], 0),
+    (fillings.sure_depth, [BOOK], 0),
+    (parts.depth_beside, [TWO, HIDDEN], 1),
+    (parts.depth_beside, [BOOK, BOOK], 1),
 ]
 # Calls of what can be filled, and the position of the argument that the error holds.
 FILLED = [
@@ -254,6 +376,13 @@ FILLED = [
     (trees.leaves_by_order, [Book([])], 0),
     (opponents.greatest_points, [HIDDEN], 0),
     (opponents.greatest_points, [Book([])], 0),
+    (joins.least_width, [HIDDEN], 0),
+    (joins.least_one_sided, [Book([])], 0),
+    (parts.needed_clauses, [HIDDEN], 0),
+    (parts.depths_of_values, [HIDDEN, "a"], 0),
+    (parts.keeping_literals, [HIDDEN], 0),
+    (parts.splitting_variables, [Book([])], 0),
+    (parts.first_places, [HIDDEN], 0),
 ]
 # One of each kind that is wrong for whatever has an error.
 WRONG = [None, True, -1, "A", ["A"], ("A",), {"A": "a"}]
@@ -369,6 +498,10 @@ class RulesTest(unittest.TestCase):
             trees.is_least_tree(TWO, TREE), trees.is_tree_of_fewest(TWO, 2, TREE), opponents.are_points(TWO, FAMILY),
             opponents.is_family_for(TWO, 2, FAMILY), opponents.is_thinned(TWO, FAMILY, FAMILY),
             opponents.is_paper_for(TWO, 2, ("family", FAMILY)), opponents.is_paper_for(TWO, 3, ("tree", TREE)),
+            joins.is_derivation(TWO, LINES), joins.is_ending(TWO, 1, LINES), joins.is_one_sided_ending(TWO, 2, LINES),
+            joins.is_closed_family(TWO, 0, CLOSED), joins.is_broad_family(TWO, 1, CLOSED),
+            joins.is_ending_by_record(TWO, RECORD, LINES), fillings.is_way(HIDDEN, (), 1, ["a", "-b"]),
+            fillings.is_trap(HIDDEN, 0, ("-a",)), parts.is_core(TWO, TWO.clauses()),
         ]
         self.assertEqual(good, [True] * len(good))
 

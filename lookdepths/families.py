@@ -1,0 +1,71 @@
+"""Closed and broad families of part-fillings, as sets of the numbers of a table."""
+
+from lookdepths.clauses import ascends
+from lookdepths.closures import closure
+from lookdepths.tables import first_in, numbers_in
+
+
+def family_in(table, value):
+    """Return the set of any object that is such a list that breaks no clause, None if it is none."""
+    if not isinstance(value, list) or not value:
+        return None
+    numbers = [table.number_in(part) for part in value]
+    if None in numbers or not ascends(value):
+        return None
+    bits = sum([1 << number for number in numbers])
+    return None if bits & table.ends else bits
+
+
+def is_closed(table, width, bits):
+    """Return whether a set is a closed family for a width."""
+    short = table.at_most(width)
+    for _, free in table.turns:
+        # The parts that are within one of the set that sets the variable answer for it.
+        held = table.below(bits & ~free)
+        if bits & table.above(table.below(bits) & short & ~held):
+            return False
+    return True
+
+
+def greatest_closed(table, width):
+    """Return the greatest closed family for a width, an empty set if there is none."""
+    made = closure(table, width, False).found
+    return table.whole & ~table.above(table.turned_about(made))
+
+
+def unanswered(table, width, bits):
+    """Return the set of those of a set that bar it from being a broad family for a width."""
+    short = table.at_most(width - 1)
+    held = table.below(bits)
+    found = 0
+    for step, free in table.turns:
+        lacking = held & free & short & ~(held >> step & held >> 2 * step)
+        found |= bits & free & table.above(lacking)
+    return found
+
+
+def greatest_broad(table, width):
+    """Return the greatest broad family for a width, an empty set if there is none."""
+    bits = table.whole & ~table.ends
+    gone = unanswered(table, width, bits)
+    while gone:
+        bits &= ~gone
+        gone = unanswered(table, width, bits)
+    return bits
+
+
+def points_by_broad(table, width, bits):
+    """Return the dictionary from the numbers of part-fillings to the points that a broad family makes for them."""
+    found = {}
+    lengths = table.lengths()[:width + 1]
+    for less, exact in enumerate(lengths):
+        for number in numbers_in(exact & table.below(bits)):
+            for part in numbers_in(table.below(1 << shortest_above(table, bits, number))):
+                found.setdefault(part, width + 1 - less)
+    return found
+
+
+def shortest_above(table, bits, number):
+    """Return the one with the fewest literals of those of a set that have a part-filling within them."""
+    held = bits & table.above(1 << number)
+    return first_in([held & exact for exact in table.lengths() if held & exact][0])
