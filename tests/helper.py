@@ -11,6 +11,7 @@ import re
 
 from lookdepths import errors
 from lookdepths.books import Book
+from lookdepths.desk import Desk
 
 ERROR_NAMES = [
     "InvalidLiteral", "InvalidVariable", "InvalidClause", "InvalidClauses", "InvalidBook", "InvalidFilling",
@@ -23,6 +24,8 @@ BARE_NAMES = ["NothingToUndo", "NothingToRedo"]
 
 def any_objects():
     """Return new objects of every kind of point 2, many of them nearly what some function wants."""
+    texts = ["a b", "b a", "()\n()", "a\n-a", "-a\na", "?", "? a", "? a\n  a\n  -a", "(): 1", "a: 0", "(): 1\na: 2", "0 1 a",
+             "! a", "! ()", "a\n  ! b\n! -a b", "put\nend", "try\nend", "undo", "undo\n", "take 0", "take 00", "end"]
     words = ["", " ", "-", "--a", "a", "b", "-a", "-b", "c", "z", "-z", "abcdefgh", "-abcdefgh", "abcdefghi",
              "-abcdefghi", "A", "-A", "aB", "a1", "1", "a-", "a b", " a", "a ", "a\n", "\ta", "-a\n", "_", "`", "{",
              "None", "~", "()"]
@@ -57,14 +60,19 @@ def any_objects():
     lists += [[("a",), ("-a",), (0, 1, "a")], [("a",), ("-a",), (1, 0, "a")], [("a",), ("-a",), (0, True, "a")],
               [("a",), ("-a",), (0, 1, "b")], [("a",), ("-a",), [0, 1, "a"]], [(0, 0, "a")], [(), (0, 0, "a")],
               [("a", "b"), ("-b", "a"), (0, 1, "b")], [(), ("a",)], [(), ("-a",), ("a",)], [(), ("-a",), ("-b",), ("a",)]]
+    lists += [[("undo",)], [("undo", 0)], [("put", Book([("a",)]))], [("put", None)], [("put",)], [("take", 0)],
+              [("take", True)], [("choose", 0, "a")], [("choose", 0, "A")], [("add", 0, ("a",))], [("add", 0, ("b", "a"))],
+              [("lay", 0, 1)], [("force", 0, None)], [("try", [])], [("try", [("undo",)])], [("try", ())], [["undo"]],
+              [("undo",), None], [("log",)], [("shown_spots", 8)], [("drop", 0, ())], [("a",), ("undo",)]]
     deep = [None, [()], (), ("a", (), ()), {}]
     for _ in range(30):
         deep = [[deep[0]], [("a", deep[1]), ()], (deep[2],), ("a", deep[3], ()), {(): deep[4]}]
     lists += deep
     own = [Book([]), Book([()]), Book([("a",), ("-b",)]), errors.LookError(), errors.InvalidClause(("a",)),
            errors.Refused()]
+    own += [Desk(), [Desk()], {Desk(): 1}]
     own += [[Book([])], (Book([]),), {"a": Book([])}, ("a", Book([("b",)])), {errors.Refused(): "a"}]
-    return words + numbers + within + tuples + lists + dicts + own
+    return texts + words + numbers + within + tuples + lists + dicts + own
 
 
 def is_name(value):
@@ -153,6 +161,8 @@ def shown(value):
     """A text that is the same only for values that are equal kind by kind, dictionaries in the order of their items."""
     if isinstance(value, Book):
         return f"Book({value.clauses()!r})"
+    if isinstance(value, Desk):
+        return "Desk(" + shown([value.log(), [(spot, value.set_there(spot)) for spot in value.spots()]]) + ")"
     if isinstance(value, list):
         return "[" + ", ".join(shown(entry) for entry in value) + "]"
     if isinstance(value, tuple):

@@ -154,6 +154,58 @@ more = Book(signs.clauses() + [("a",)])
 # [1, 2, 1]
 """
 
+LEMMAS = """\
+from lookdepths.lemmas import best_lemmas, fewest_lemmas, gain_of, gains, is_row, row_of_tree
+from lookdepths.makes import book_of
+ring = book_of(("ring", 3))
+[gain_of(ring, ("a",)), gain_of(ring, ("a", "b")), best_lemmas(ring, 1), len(gains(ring, 1)), gains(ring, 1)[()]]
+# [1, 0, [('-a',), ('-b',), ('-c',), ('a',), ('b',), ('c',)], 7, 2]
+tree = ("a", ("b", ("-a", "-b"), ("-a", "b")), ("b", ("-b", "a"), ("a", "b")))
+[row_of_tree(book_of(("signs", 2)), tree), is_row(book_of(("signs", 2)), 1, [("-a",), ()]), is_row(book_of(("signs", 2)), 1, [()]), fewest_lemmas(book_of(("signs", 2)), 1), fewest_lemmas(ring, 2)]
+# [[('-a',), ('a',), ()], True, False, 2, 1]
+"""
+
+DESK = """\
+from lookdepths.books import Book
+from lookdepths.desk import Desk, replayed
+desk, two = Desk(), Book([("a", "b"), ("-b", "a"), ("-a", "b"), ("-a", "-b")])
+[desk.put(two), desk.least_there(0), desk.is_shown(0, 1), desk.choose(0, "a"), desk.rest_there(0).clauses(), desk.least_there(0), desk.shown_spots(1)]
+# [0, 2, False, None, [('-b',), ('b',)], 1, [0]]
+[desk.put(Book([("c",), ("-c", "d"), ("d", "e")])), desk.force(1, 1), desk.set_there(1), desk.rest_there(1).clauses(), desk.least_there(1)]
+# [1, ['c', 'd'], ('c', 'd'), [], None]
+[desk.back(0, "a"), desk.drop(0, ("-a", "-b")), desk.force(0, 2), desk.lay(0, 1), desk.set_there(0), desk.undo(), desk.spots(), len(desk.log())]
+# [None, None, ['a', 'b'], None, ('a', 'b', 'c', 'd'), None, [0, 1], 7]
+replayed(Desk(), desk.log()).set_there(0)
+# ('a', 'b')
+"""
+
+SCRIPTS = r"""from lookdepths.books import Book
+from lookdepths.desk import Desk
+from lookdepths.scripts import end_of, play, read_script, script_text, shortened
+book = Book([("a", "b"), ("-b", "a")])
+day = [("put", book), ("force", 0, 1), ("least_there", 0), ("try", [("add", 0, ("-a",)), ("is_shown", 0, 1)]), ("force", 0, 2), ("choose", 0, "c"), ("choose", 0, "b"), ("undo",)]
+play(Desk(), day)
+# [('put', 0), ('refused', 'Refused'), ('told', None), ('tried', [('done',), ('told', True)]), ('told', ['a']), ('refused', 'InvalidLiteral'), ('done',), ('done',)]
+[end_of(day) == {0: (book.clauses(), ("a",))}, shortened(day) == [day[0], day[4], day[6], day[7]], read_script(script_text(day)) == day]
+# [True, True, True]
+script_text([("put", Book([("-b", "a"), ()])), ("add", 0, ()), ("add", 0, ("-a",)), ("choose", 10, "-a"), ("try", [("undo",)])])
+# 'put\n  ()\n  -b a\nend\nadd 0 ()\nadd 0 -a\nchoose 10 -a\ntry\n  undo\nend'
+"""
+
+PAPERS = r"""from lookdepths.books import Book
+from lookdepths.papers import book_text, derivation_text, look_text, points_text, read_book, read_look, read_points, read_tree, tree_text
+two = Book([("a", "b"), ("-b", "a"), ("-a", "b"), ("-a", "-b")])
+[book_text(two), read_book("()\n-b a") == Book([("-b", "a"), ()]), book_text(Book([]))]
+# ['-a -b\n-a b\n-b a\na b', True, '']
+tree = ("a", ("b", ("-a", "-b"), ("-a", "b")), ("a",))
+[tree_text(tree), read_tree(tree_text(tree)) == tree, tree_text(())]
+# ['? a\n  ? b\n    -a -b\n    -a b\n  a', True, '()']
+[points_text({("a",): 1, (): 2}), read_points("(): 2\na: 1"), derivation_text([("a", "b"), ("-a",), (0, 1, "a")])]
+# ['(): 2\na: 1', {(): 2, ('a',): 1}, 'a b\n-a\n0 1 a']
+[look_text([("a", [("b",)]), ("-a", "b")]), read_look("a\n  ! b\n! -a b")]
+# ['a\n  ! b\n! -a b', [('a', [('b',)]), ('-a', 'b')]]
+"""
+
 
 class ExamplesTest(unittest.TestCase):
     def check(self, block):
@@ -198,6 +250,18 @@ class ExamplesTest(unittest.TestCase):
 
     def test_parts(self):
         self.check(PARTS)
+
+    def test_lemmas(self):
+        self.check(LEMMAS)
+
+    def test_desk(self):
+        self.check(DESK)
+
+    def test_scripts(self):
+        self.check(SCRIPTS)
+
+    def test_papers(self):
+        self.check(PAPERS)
 
 
 if __name__ == "__main__":

@@ -8,6 +8,7 @@ from lookdepths.depths import (
     all_depths, closing, deepest, depth_of, depths_counted, follows, is_closed, is_closing, is_deepest, is_least,
     least_following, seen_at, unseen,
 )
+from lookdepths.desk import Desk, replayed
 from lookdepths.errors import LookError
 from lookdepths.fillings import (
     any_filling, any_trap, fillings_of, first_way, goes_through, is_trap, is_way, looks_used, many_fillings, may_set,
@@ -18,6 +19,7 @@ from lookdepths.joins import (
     is_ending, is_ending_by_record, least_one_sided, least_width, made_with, makes, one_sided_ending, one_sided_makes,
     one_sided_of, partners, points_of_broad, width_of,
 )
+from lookdepths.lemmas import best_lemmas, fewest_lemmas, gain_of, gains, is_row, row_of_tree, shortest_row
 from lookdepths.looks import (
     clauses_in, depth_at, depth_of_record, depths_below, forced, forced_by, is_record, least_depth, left_by, record_of,
     shown_literals, shows,
@@ -27,10 +29,15 @@ from lookdepths.opponents import (
     are_points, family_for, greatest_points, is_family_for, is_paper_for, is_thinned, paper_for, played, points_of,
     said, thinned, weakest_places,
 )
+from lookdepths.papers import (
+    book_text, derivation_text, look_text, parts_text, points_text, read_book, read_derivation, read_look, read_parts,
+    read_points, read_tree, tree_text,
+)
 from lookdepths.parts import (
     any_core, core_depths, cores, depth_beside, depth_by_pieces, depths_of_values, first_places, is_core,
     keeping_literals, needed_clauses, splitting_variables,
 )
+from lookdepths.scripts import end_of, play, read_script, script_text, shortened
 from lookdepths.trees import (
     asked_on, book_of_tree, fewest_at, fewest_leaves, heights, is_least_tree, is_tree, is_tree_of_fewest, leaf_at,
     leaves_by_order, leaves_of, least_tree, order_of, record_of_tree, tree_of_fewest, tree_of_record, ways_to_leaves,
@@ -210,6 +217,71 @@ class LimitsTest(unittest.TestCase):
         for rows in FIVE + SIX + EIGHT:
             core = any_core(Book(rows))
             self.assertTrue(core is None or is_core(Book(rows), core))
+
+    def test_lemmas_of_five_variables(self):
+        for rows in FIVE + [*pseudo_books(50, 4, list("abcde"), 16, 3, 2)]:
+            book = Book(rows)
+            for number in [0, 1, 2, 60]:
+                found = gains(book, number)
+                self.assertTrue(set(best_lemmas(book, number)) <= set(found))
+            for clause in every_row(names_in(rows), 1):
+                asked(gain_of, book, clause)
+        for rows in SIX:
+            tree = asked(least_tree, Book(rows))
+            if tree is not None and tree not in rows:
+                self.assertTrue(is_row(Book(rows), 1, row_of_tree(Book(rows), tree)))
+
+    def test_fewest_lemmas_of_three_variables(self):
+        for rows in [signs(list("abc")), *pseudo_books(51, 40, list("abc"), 8, 3, 2), *pseudo_books(52, 40, list("abc"), 12, 3)]:
+            for depth in range(9):
+                row = asked(shortest_row, Book(rows), depth)
+                if row is not None:
+                    self.assertTrue(is_row(Book(rows), depth, row) and fewest_lemmas(Book(rows), depth) == len(row))
+
+    def test_desks_of_a_hundred_commands(self):
+        desk = Desk()
+        for rows in [SIX[1], SIX[5], FIVE[0], ring(list("uvwxyz"))]:
+            desk.put(Book(rows))
+        for turn in range(24):
+            name = desk.book_there(turn % 4).variables()[turn % 5]
+            for _ in range(2):
+                desk.choose(turn % 4, name)
+                desk.shown_spots(8)
+                desk.back(turn % 4, name)
+            desk.least_there(turn % 4)
+            desk.alike_spots(turn % 4)
+            desk.undo()
+            desk.undo()
+        self.assertEqual([len(desk.log()), desk.spots()], [52, [0, 1, 2, 3]])
+        self.assertEqual(replayed(Desk(), desk.log()).log(), desk.log())
+        desk.lay(0, 3)
+        self.assertEqual([desk.least_there(0), len(desk.book_there(0).variables())], [2, 12])
+        for _ in range(53):
+            desk.undo()
+        self.assertEqual(desk.spots(), [])
+
+    def test_scripts_of_twelve_commands(self):
+        script = [("put", Book(SIX[1])), ("put", Book(SIX[5])), ("force", 1, 1), ("least_there", 0), ("choose", 0, "a"),
+                  ("try", [("undo",), ("try", [("undo",), ("try", [("redo",), ("try", [("shown_spots", 8)])])])])]
+        for _ in range(40):
+            self.assertEqual(read_script(script_text(script)), script)
+            self.assertEqual(end_of(shortened(script)), end_of(script))
+            self.assertEqual(len(play(Desk(), script)), 6)
+
+    def test_texts_of_250_lines_of_400_signs(self):
+        long = tuple(sorted(one + other + "abcdef" for one in "abcdef" for other in "abcdefg"))
+        texts = [(parts_text, read_parts, [long] * 250), (derivation_text, read_derivation, [long] * 125 + [(10 ** 29, 1, "a")] * 125),
+                 (points_text, read_points, {part: 10 ** 29 for part in sorted(every_row(list("abcde")))[:243]}),
+                 (look_text, read_look, [("a", [long])] * 100 + [long])]
+        tree = long
+        for _ in range(124):
+            tree = ("abcdefgh", ("a",), tree)
+        for writer, reader, paper in [*texts, (tree_text, read_tree, tree)]:
+            for _ in range(20):
+                self.assertEqual(reader(writer(paper)), paper)
+        text = "\n".join(one + other for one in "abcdefghij" for other in "abcdefghijklmnopqrstuvwxy")
+        for _ in range(20):
+            self.assertEqual(book_text(read_book(text)), text)
 
     def test_many_calls_in_a_row(self):
         book = Book(copies(2, 3))

@@ -3,9 +3,12 @@
 import itertools
 import unittest
 
-from lookdepths import books, clauses, depths, fillings, joins, looks, makes, opponents, parts, trees
+from lookdepths import (
+    books, clauses, depths, desk, fillings, joins, lemmas, looks, makes, opponents, papers, parts, scripts, trees,
+)
 from lookdepths import errors as wrong
 from lookdepths.books import Book
+from lookdepths.desk import Desk
 from tests.helper import (
     against, any_objects, ascends, is_book, is_look, is_name, is_names, is_plan, is_row, is_rows, is_score, is_sent,
     is_signed_name, parameters, scramble, shown,
@@ -318,9 +321,131 @@ PARTS_CALLS = [
     (parts.splitting_variables, [TWO_BOOK]),
     (parts.first_places, [TWO_BOOK]),
 ]
+
+# A desk with a book, a log and a script for it, and papers by their forms.
+DESK = Desk()
+DESK.put(HIDDEN)
+DESK.choose(0, "a")
+LOG = [("put", TWO), ("choose", 1, "b"), ("take", 0)]
+SCRIPT = [("put", HIDDEN), ("try", [("choose", 0, "a"), ("undo",)]), ("least_there", 0)]
+SIZES = {"put": 1, "take": 1, "choose": 2, "back": 2, "force": 2, "add": 2, "drop": 2, "lay": 2}
+KINDS = {**{word: [is_number, is_number] for word in ["force", "lay", "is_shown"]},
+         **{word: [is_number, is_signed_name] for word in ["choose", "back"]},
+         **{word: [is_number, is_row] for word in ["add", "drop"]},
+         **{word: [is_number] for word in ["take", "set_there", "least_there", "alike_spots", "shown_spots"]},
+         "put": [is_book], "undo": [], "redo": [], "try": [lambda value: is_told_script(value)]}
+
+
+def is_desk(value):
+    return isinstance(value, Desk)
+
+
+def is_log(value):
+    if not isinstance(value, list) or not all(isinstance(entry, tuple) and entry for entry in value):
+        return False
+    return all(isinstance(entry[0], str) and len(entry) - 1 == SIZES.get(entry[0]) for entry in value)
+
+
+def is_told_script(value):
+    if not isinstance(value, list) or not all(isinstance(entry, tuple) and entry for entry in value):
+        return False
+    for word, *things in value:
+        kinds = KINDS.get(word) if isinstance(word, str) else None
+        if kinds is None or len(kinds) != len(things) or not all(kind(thing) for kind, thing in zip(kinds, things)):
+            return False
+    return True
+
+
+def is_form_of_tree(value):
+    return None not in asked_in(value)
+
+
+def is_form_of_points(value):
+    return isinstance(value, dict) and all(is_row(part) and is_number_from_one(value[part]) for part in value)
+
+
+def is_form_of_lines(value):
+    return isinstance(value, list) and all(is_row(line) or isinstance(line, tuple) and len(line) == 3 and is_name(line[2])
+                                           and is_number(line[0]) and is_number(line[1]) for line in value)
+
+
+def is_form_of_look(value):
+    if not isinstance(value, list) or not value or not is_row(value[-1]):
+        return False
+    return all(isinstance(entry, tuple) and len(entry) == 2 and is_signed_name(entry[0]) and is_form_of_look(entry[1])
+               for entry in value[:-1])
+
+
+def is_text_of(*texts):
+    return lambda value: isinstance(value, str) and value in texts
+
+
+def is_clause_line(line):
+    return line == "()" or is_row(tuple(line.split(" ")))
+
+
+def is_text_of_rows(value):
+    return isinstance(value, str) and (not value or all(is_clause_line(line) for line in value.split("\n")))
+
+
+def is_text_of_book(value):
+    if not value or not is_text_of_rows(value):
+        return value == ""
+    rows = [() if line == "()" else tuple(line.split(" ")) for line in value.split("\n")]
+    return rows == sorted(set(rows))
+
+
+def is_text_of_lines(value):
+    return isinstance(value, str) and (value == "0 1 a" or is_text_of_rows(value))
+
+
+def is_text_of_tree(value):
+    return isinstance(value, str) and (value == "? a\n  a\n  -a" or is_clause_line(value))
+
+
+TEXT = "text", wrong.InvalidText
+DESK_ARGUMENT = ("desk", wrong.InvalidDesk, is_desk, DESK)
+SCRIPT_ARGUMENT = ("script", wrong.InvalidScript, is_told_script, SCRIPT)
+NUMBER = ("number", wrong.InvalidNumber, is_number, 1)
+LEMMA_CALLS = [
+    (lemmas.gain_of, [HIDDEN_BOOK, CLAUSE_OF_HIDDEN]),
+    (lemmas.gains, [TWO_BOOK, NUMBER]),
+    (lemmas.best_lemmas, [TWO_BOOK, NUMBER]),
+    (lemmas.is_row, [TWO_BOOK, DEPTH, VALUE]),
+    (lemmas.row_of_tree, [TWO_BOOK, TREE_ARGUMENT]),
+    (lemmas.fewest_lemmas, [TWO_BOOK, NO_DEPTH]),
+    (lemmas.shortest_row, [TWO_BOOK, NO_DEPTH]),
+]
+DESK_CALLS = [
+    (Desk, []),
+    (desk.replayed, [DESK_ARGUMENT, ("log", wrong.InvalidRecord, is_log, LOG)]),
+]
+SCRIPT_CALLS = [
+    (scripts.play, [("desk", wrong.InvalidDesk, is_desk, Desk()), (
+        "script", wrong.InvalidScript, is_told_script, [("least_there", 0), ("try", [("put", TWO)])])]),
+    (scripts.script_text, [SCRIPT_ARGUMENT]),
+    (scripts.read_script, [(*TEXT, is_text_of("", "undo", "take 0", "put\nend", "try\nend"), "undo")]),
+    (scripts.end_of, [SCRIPT_ARGUMENT]),
+    (scripts.shortened, [SCRIPT_ARGUMENT]),
+]
+PAPER_CALLS = [
+    (papers.book_text, [TWO_BOOK]),
+    (papers.read_book, [(*TEXT, is_text_of_book, "-a\na")]),
+    (papers.parts_text, [("parts", wrong.InvalidFamily, is_rows, [("a",), ()])]),
+    (papers.read_parts, [(*TEXT, is_text_of_rows, "a\n-a")]),
+    (papers.tree_text, [("tree", wrong.InvalidTree, is_form_of_tree, TREE)]),
+    (papers.read_tree, [(*TEXT, is_text_of_tree, "? a\n  a\n  -a")]),
+    (papers.points_text, [("points", wrong.InvalidPoints, is_form_of_points, FAMILY)]),
+    (papers.read_points, [(*TEXT, is_text_of("", "(): 1", "(): 1\na: 2"), "(): 1\na: 2")]),
+    (papers.derivation_text, [("lines", wrong.InvalidDerivation, is_form_of_lines, LINES)]),
+    (papers.read_derivation, [(*TEXT, is_text_of_lines, "0 1 a")]),
+    (papers.look_text, [("look", wrong.InvalidLook, is_form_of_look, RECORD)]),
+    (papers.read_look, [(*TEXT, is_text_of("! a", "! ()", "a\n  ! b\n! -a b"), "a\n  ! b\n! -a b")]),
+]
 MODULES = [(clauses, CLAUSE_CALLS), (books, BOOK_CALLS), (looks, LOOK_CALLS), (depths, DEPTH_CALLS),
            (trees, TREE_CALLS), (opponents, OPPONENT_CALLS), (joins, JOIN_CALLS), (fillings, FILLING_CALLS),
-           (makes, MAKE_CALLS), (parts, PARTS_CALLS)]
+           (makes, MAKE_CALLS), (parts, PARTS_CALLS), (lemmas, LEMMA_CALLS), (desk, DESK_CALLS), (scripts, SCRIPT_CALLS),
+           (papers, PAPER_CALLS)]
 CALLS = [call for _, calls in MODULES for call in calls]
 
 # Calls that are Refused, and the position of the argument that the error holds.
@@ -358,6 +483,9 @@ REFUSED = [
     (fillings.sure_depth, [BOOK], 0),
     (parts.depth_beside, [TWO, HIDDEN], 1),
     (parts.depth_beside, [BOOK, BOOK], 1),
+    (lemmas.gain_of, [HIDDEN, ("b",)], 1),
+    (lemmas.fewest_lemmas, [TWO, 0], 1),
+    (lemmas.shortest_row, [TWO, 0], 1),
 ]
 # Calls of what can be filled, and the position of the argument that the error holds.
 FILLED = [
@@ -383,6 +511,9 @@ FILLED = [
     (parts.keeping_literals, [HIDDEN], 0),
     (parts.splitting_variables, [Book([])], 0),
     (parts.first_places, [HIDDEN], 0),
+    (lemmas.fewest_lemmas, [HIDDEN, 0], 0),
+    (lemmas.fewest_lemmas, [HIDDEN, 1], 0),
+    (lemmas.shortest_row, [Book([]), 0], 0),
 ]
 # One of each kind that is wrong for whatever has an error.
 WRONG = [None, True, -1, "A", ["A"], ("A",), {"A": "a"}]
@@ -430,8 +561,9 @@ class RulesTest(unittest.TestCase):
                         try:
                             function(*arguments)
                         except wrong.LookError as caught:
-                            # What the later arguments have to be hangs on the book, in `said` on all ahead.
-                            hangs = error is wrong.InvalidBook or function is opponents.said
+                            # What the later arguments have to be hangs on the book, in `said` on all ahead; and
+                            # what stands in a log is told by the commands, one by one.
+                            hangs = error is wrong.InvalidBook or function in [opponents.said, desk.replayed]
                             self.assertTrue(hangs or caught.__class__ in [wrong.Refused, wrong.Filled])
                             self.assertIsNot(caught.__class__, error)
 
@@ -468,7 +600,7 @@ class RulesTest(unittest.TestCase):
 
     def test_judges_return_true_or_false_for_any_object(self):
         for function, rows in CALLS:
-            for value in any_objects() if rows[-1][0] == "value" else []:
+            for value in any_objects() if rows and rows[-1][0] == "value" else []:
                 answer = function(*right_arguments(rows)[:-1], value)
                 self.assertIn(answer, [True, False])
                 self.assertIsInstance(answer, bool)
