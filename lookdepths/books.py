@@ -1,8 +1,8 @@
 """Books of clauses, their part-fillings, and what is made of them."""
 
 from lookdepths.clauses import (
-    bare, in_order, is_clause, is_literal, is_name_list, is_renaming, is_variable, is_within, need_clause, opposite,
-    renamed, turned, variables_in,
+    bare, in_order, is_clause, is_literal, is_name_list, is_renaming, is_variable, need_clause, opposite, renamed,
+    turned, variables_in,
 )
 from lookdepths.errors import (
     InvalidBook, InvalidClauses, InvalidFilling, InvalidLiteral, InvalidMap, InvalidVariable, Refused,
@@ -155,8 +155,13 @@ def set_also(book, part, literal):
 def shrunk(book):
     """Return the book of the clauses within which there is no other one."""
     need_book(book)
-    rows = book.clauses()
-    return known_book([row for row in rows if not any([less != row and is_within(less, row) for less in rows])])
+    broken = book.marks().breaking
+    return known_book([row for row in book.clauses() if not has_less(list(broken.values()), broken[row])])
+
+
+def has_less(marks, bits):
+    """Return whether some of a list of bits are others than these and within them."""
+    return any([less & bits == less and less != bits for less in marks])
 
 
 def with_clause(book, clause):
@@ -215,15 +220,18 @@ def pieces(book):
     for clause in book.clauses():
         near = [group for group in groups if is_linked(group, clause)]
         apart = [group for group in groups if not is_linked(group, clause)]
-        groups = apart + [[clause] + [row for group in near for row in group]]
+        names = {bare(literal): True for literal in clause}
+        for others, _ in near:
+            names.update(others)
+        groups = apart + [(names, [clause] + [row for _, rows in near for row in rows])]
     # No variable is in two pieces, so whole lists compare as their least variables do; the empty list is first.
-    return sorted([known_book(group) for group in groups], key=lambda piece: piece.variables())
+    return sorted([known_book(rows) for _, rows in groups], key=lambda piece: piece.variables())
 
 
 def is_linked(group, clause):
-    """Return whether some clause of a list has a variable in common with a clause."""
-    names = variables_in(clause)
-    return any([bare(literal) in names for row in group for literal in row])
+    """Return whether a clause has one of the variables of a group of clauses."""
+    names, _ = group
+    return any([bare(literal) in names for literal in clause])
 
 
 def either(one, other, variable):

@@ -133,10 +133,8 @@ def is_closing(book, depth, value):
     # A clause with a tree follows: so no rest that can be filled is among what breaks one of them.
     if table.barred & ~table.broken_by(list(value)):
         return False
-    return all([is_tree_at_most(rest_of(book, contraries(clause)), depth, value[clause]) for clause in value])
-
-
-def is_tree_at_most(book, order, value):
-    """Return whether any object is a tree of a book of at most an order."""
-    reached = order_if_tree(book, value)
-    return reached is not None and reached <= order
+    for clause in value:
+        order = order_if_tree(rest_of(book, contraries(clause)), value[clause])
+        if order is None or order > depth:
+            return False
+    return True

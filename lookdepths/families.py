@@ -56,16 +56,13 @@ def greatest_broad(table, width):
 
 def points_by_broad(table, width, bits):
     """Return the dictionary from the numbers of part-fillings to the points that a broad family makes for them."""
+    lengths = table.lengths()
+    within = table.below(bits)
     found = {}
-    lengths = table.lengths()[:width + 1]
-    for less, exact in enumerate(lengths):
-        for number in numbers_in(exact & table.below(bits)):
-            for part in numbers_in(table.below(1 << shortest_above(table, bits, number))):
+    for less, exact in enumerate(lengths[:width + 1]):
+        for number in numbers_in(exact & within):
+            held = bits & table.above(1 << number)
+            shortest = first_in([held & many for many in lengths if held & many][0])
+            for part in numbers_in(table.below(1 << shortest)):
                 found.setdefault(part, width + 1 - less)
     return found
-
-
-def shortest_above(table, bits, number):
-    """Return the one with the fewest literals of those of a set that have a part-filling within them."""
-    held = bits & table.above(1 << number)
-    return first_in([held & exact for exact in table.lengths() if held & exact][0])

@@ -229,11 +229,16 @@ class Table:
 
     def parts_in(self, bits):
         """Return the ascending list of the part-fillings of a set."""
-        return sorted([self.part_at(number) for number in numbers_in(bits)])
+        numbers = numbers_in(bits)
+        # The list of all of them is worth its while only for many.
+        if self.listed is None and 8 * len(numbers) < self.many:
+            return sorted([self.part_at(number) for number in numbers])
+        parts = self.all_parts()
+        return sorted([parts[number] for number in numbers])
 
     def clauses_in(self, bits):
         """Return the ascending list of the clauses of the contraries of the part-fillings of a set."""
-        return sorted([self.clause_at(number) for number in numbers_in(bits)])
+        return self.parts_in(self.turned_about(bits))
 
 
 def numbers_in(bits):
