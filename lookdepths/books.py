@@ -139,7 +139,8 @@ def is_filling(book, value):
 def all_parts(book):
     """Return the list of all part-fillings, the shorter ones first, those of one length ascending."""
     need_book(book)
-    return sorted(book.table().all_parts(), key=lambda part: (len(part), part))
+    # Those of one length stay as they ascend.
+    return sorted([part for part, _ in book.table().ascending()], key=len)
 
 
 def set_also(book, part, literal):

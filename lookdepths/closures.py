@@ -62,10 +62,6 @@ class Closure:
         free = bits & self.parts.free[literal]
         return bits & self.parts.having[literal] | free << self.parts.worth[literal]
 
-    def is_ended(self):
-        """Return whether the empty clause is among what is made."""
-        return self.found & 1 == 1
-
     def source(self, number):
         """Return the numbers of two clauses, found ahead of a made one, of which it is made, and the variable."""
         first, beside = self.sources[number]
@@ -111,18 +107,37 @@ class Closure:
         return lines
 
 
-def closure(table, width, is_one_sided):
-    """Return what derivations of at most a width make; it is kept, and not to be changed."""
-    # No clause has more literals than there are variables.
-    key = (min(width, len(table.names)), is_one_sided)
-    if key not in table.kept_lines:
-        table.kept_lines[key] = Closure(table, key[0], is_one_sided)
-    return table.kept_lines[key]
+def width_key(table, width, is_one_sided):
+    """Return what tells widths apart: no clause has more literals than there are variables."""
+    return (min(width, len(table.names)), is_one_sided)
+
+
+def made_at_most(table, width, is_one_sided):
+    """Return the set of all clauses in derivations of at most a width; it is kept."""
+    key = width_key(table, width, is_one_sided)
+    if key not in table.kept_makes:
+        table.kept_makes[key] = Closure(table, key[0], is_one_sided).found
+    return table.kept_makes[key]
+
+
+def ending_at_most(table, width, is_one_sided):
+    """Return a derivation of at most a width that ends, None if there is none; it is kept, and not to be changed."""
+    key = width_key(table, width, is_one_sided)
+    if key not in table.kept_endings:
+        closure = Closure(table, key[0], is_one_sided)
+        table.kept_makes[key] = closure.found
+        table.kept_endings[key] = closure.ending() if is_ended(closure.found) else None
+    return table.kept_endings[key]
+
+
+def is_ended(found):
+    """Return whether the empty clause is in a set of clauses."""
+    return found & 1 == 1
 
 
 def least_end(table, is_one_sided):
     """Return the least width of a derivation that ends, for a book that can't be filled."""
     width = 0
-    while not closure(table, width, is_one_sided).is_ended():
+    while not is_ended(made_at_most(table, width, is_one_sided)):
         width += 1
     return width

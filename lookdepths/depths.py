@@ -107,8 +107,8 @@ def all_depths(book):
     """Return the dictionary from all part-fillings whose rest can't be filled to the least depths of their rests."""
     need_book(book)
     table = book.table()
-    parts, orders = table.all_parts(), table.orders()
-    return {parts[number]: orders[number] for number in table.ascending() if orders[number] is not None}
+    orders = table.orders()
+    return {part: orders[number] for part, number in table.ascending() if orders[number] is not None}
 
 
 def depths_counted(book):
@@ -120,7 +120,15 @@ def depths_counted(book):
 
 def closing(book):
     """Return the closing with just the least clauses that follow, with trees of the least order."""
-    return {clause: best_tree(rest_of(book, contraries(clause))) for clause in least_following(book)}
+    return {clause: tree_behind(book, clause) for clause in least_following(book)}
+
+
+def tree_behind(book, clause):
+    """Return a tree of the least order of the rest of a clause's contraries, for one that follows; it is kept."""
+    kept = book.table().kept_trees
+    if clause not in kept:
+        kept[clause] = best_tree(rest_of(book, contraries(clause)))
+    return kept[clause]
 
 
 def is_closing(book, depth, value):

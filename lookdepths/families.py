@@ -1,19 +1,19 @@
 """Closed and broad families of part-fillings, as sets of the numbers of a table."""
 
 from lookdepths.clauses import ascends
-from lookdepths.closures import closure
+from lookdepths.closures import made_at_most
 from lookdepths.tables import first_in, numbers_in
 
 
-def family_in(table, value):
+def family_in(book, value):
     """Return the set of any object that is such a list that breaks no clause, None if it is none."""
     if not isinstance(value, list) or not value:
         return None
-    numbers = [table.number_in(part) for part in value]
+    numbers = [book.table().number_in(part) for part in value]
     if None in numbers or not ascends(value):
         return None
     bits = sum([1 << number for number in numbers])
-    return None if bits & table.ends else bits
+    return None if bits & book.table().ends else bits
 
 
 def is_closed(table, width, bits):
@@ -29,8 +29,7 @@ def is_closed(table, width, bits):
 
 def greatest_closed(table, width):
     """Return the greatest closed family for a width, an empty set if there is none."""
-    made = closure(table, width, False).found
-    return table.whole & ~table.above(table.turned_about(made))
+    return table.whole & ~table.above(table.turned_about(made_at_most(table, width, False)))
 
 
 def unanswered(table, width, bits):

@@ -2,7 +2,7 @@
 
 from lookdepths.books import need_book
 from lookdepths.clauses import joined_at, meeting_of, need_clause
-from lookdepths.closures import closure, least_end
+from lookdepths.closures import ending_at_most, least_end, made_at_most
 from lookdepths.derivations import derivation_of_record, lines_of, lines_wanted
 from lookdepths.errors import Refused
 from lookdepths.families import (
@@ -50,21 +50,21 @@ def one_sided_of(book, derivation):
     return lines_wanted(book, derivation).one_sided
 
 
-def closure_for(book, width, is_one_sided):
-    """Return what derivations of at most a width make, once the arguments are looked at."""
+def all_made(book, width, is_one_sided):
+    """Return the ascending list of all clauses in derivations of at most a width, once the arguments are looked at."""
     need_book(book)
     need_number(width)
-    return closure(book.table(), width, is_one_sided)
+    return book_parts(book, made_at_most(book.table(), width, is_one_sided))
 
 
 def makes(book, width):
     """Return the ascending list of all clauses in derivations of at most a width."""
-    return book_parts(book, closure_for(book, width, False).found)
+    return all_made(book, width, False)
 
 
 def one_sided_makes(book, width):
     """Return the ascending list of all clauses in derivations of at most a one-sided width."""
-    return book_parts(book, closure_for(book, width, True).found)
+    return all_made(book, width, True)
 
 
 def book_parts(book, bits):
@@ -86,21 +86,24 @@ def least_one_sided(book):
     return least_end(book.table(), True)
 
 
-def ending_by(found, width):
-    """Return a derivation that ends; Refused with the width if there is none."""
-    if not found.is_ended():
+def any_ending(book, width, is_one_sided):
+    """Return a derivation of at most a width that ends, once the arguments are looked at; Refused if there is none."""
+    need_book(book)
+    need_number(width)
+    lines = ending_at_most(book.table(), width, is_one_sided)
+    if lines is None:
         raise Refused(width)
-    return found.ending()
+    return list(lines)
 
 
 def ending(book, width):
     """Return a derivation of at most a width that ends; Refused with it if there is none."""
-    return ending_by(closure_for(book, width, False), width)
+    return any_ending(book, width, False)
 
 
 def one_sided_ending(book, width):
     """Return a derivation of at most a one-sided width that ends; Refused with it if there is none."""
-    return ending_by(closure_for(book, width, True), width)
+    return any_ending(book, width, True)
 
 
 def is_ending(book, width, value):
@@ -128,7 +131,7 @@ def is_closed_family(book, width, value):
     """Return whether any object is a closed family for a width."""
     need_book(book)
     need_number(width)
-    bits = family_in(book.table(), value)
+    bits = family_in(book, value)
     return bits is not None and is_closed(book.table(), width, bits)
 
 
@@ -146,7 +149,7 @@ def is_broad_family(book, width, value):
     """Return whether any object is a broad family for a width."""
     need_book(book)
     need_number(width)
-    bits = family_in(book.table(), value)
+    bits = family_in(book, value)
     return bits is not None and not unanswered(book.table(), width, bits)
 
 
@@ -182,4 +185,4 @@ def points_of_broad(book, width):
     bits = broad_bits(book, width)
     table = book.table()
     points = points_by_broad(table, width, bits)
-    return {table.part_at(number): points[number] for number in table.ascending() if number in points}
+    return {part: points[number] for part, number in table.ascending() if number in points}

@@ -1,56 +1,66 @@
-"""The fewest leaves of trees, by their orders, behind all part-fillings of a book that can't be filled."""
+"""The fewest leaves of trees, by their orders, behind all part-fillings of a book that can't be filled.
+
+For each order there is a dictionary from numbers of leaves to the sets of the part-fillings behind which a tree of at
+most this order has at least so many.
+"""
 
 from lookdepths.orders import broken_on
-from lookdepths.tables import numbers_in
 
 
 def leaves_at_most(table, order):
-    """Return the list, by number, of the fewest leaves of trees of at most an order, above `table.many` for none."""
-    grow_leaves(table, order)
-    return table.kept_leaves[min(order, len(table.kept_leaves) - 1)]
-
-
-def grow_leaves(table, order):
-    """Keep such lists of a table up to an order, or to the one behind which they stay the same."""
+    """Return the sets by the fewest leaves of trees of at most an order; they are kept, and not to be changed."""
     found = table.kept_leaves
-    if len(found) > order or is_settled(found):
-        return
-    cells = open_cells(table)
     if not found:
-        found.append([1 if table.ends >> number & 1 else table.many + 1 for number in range(table.many)])
-    while len(found) <= order and not is_settled(found):
-        found.append(next_leaves(table, cells, found[-1]))
+        found.append({1: table.ends})
+    # Once two orders are alike all greater ones are.
+    while len(found) <= order and found[-2:-1] != found[-1:]:
+        found.append(next_leaves(table, found[-1], table.level(len(found))))
+    return found[min(order, len(found) - 1)]
 
 
-def is_settled(lists):
-    """Return whether the last two of some lists are alike."""
-    return len(lists) > 1 and lists[-1] == lists[-2]
-
-
-def open_cells(table):
-    """Return the list of the numbers that break no clause, from the greatest on, with the steps of what is not set."""
-    steps_of = [()]
-    for step, _ in table.turns:
-        steps_of = [steps + (step,) for steps in steps_of] + steps_of + steps_of
-    return [(number, steps_of[number]) for number in reversed(numbers_in(table.whole & ~table.ends))]
-
-
-def next_leaves(table, cells, lesser):
-    """Return the list for the next order: of the two trees of a place one is of those that `lesser` counts."""
-    found = [1] * table.many
-    for number, steps in cells:
-        best = table.many + 1
-        for step in steps:
-            high, low = number + step, number + 2 * step
-            best = min(best, found[high] + lesser[low], lesser[high] + found[low])
-        found[number] = best
+def next_leaves(table, lesser, whole):
+    """Return the sets for the next order, of all of `whole`: one of the two trees of a place is of the lesser order."""
+    beside = {count: sides_of(table, lesser[count]) for count in lesser}
+    sides = {1: beside[1]}
+    found = {1: table.ends}
+    left = whole & ~table.ends
+    count = 1
+    while left:
+        count += 1
+        bits = left & joined_sides(sides, beside, count)
+        if bits:
+            found[count] = bits
+            sides[count] = sides_of(table, bits)
+            left &= ~bits
     return found
+
+
+def sides_of(table, bits):
+    """Return the list, by variables, of the sets whose rests, with it true and with it false, are in a set."""
+    return [(free & bits >> step, free & bits >> 2 * step) for step, free in table.turns]
+
+
+def joined_sides(sides, beside, count):
+    """Return the set of places one of whose trees is of the one sides, the other of the others, with so many leaves."""
+    bits = 0
+    for few in sides:
+        if count - few in beside:
+            for (high, low), (other_high, other_low) in zip(sides[few], beside[count - few]):
+                bits |= high & other_low | other_high & low
+    return bits
+
+
+def count_at(found, number):
+    """Return the fewest leaves behind the part-filling of a number by such sets, None if there is no tree."""
+    for count in found:
+        if found[count] >> number & 1:
+            return count
+    return None
 
 
 def few_leaves(table, order):
     """Return the fewest leaves of trees of the whole book of at most an order, None if there is none."""
-    few = leaves_at_most(table, order)[0]
-    return few if few <= table.many else None
+    return count_at(leaves_at_most(table, order), 0)
 
 
 def small_tree_at(book, order, number, way):
@@ -67,10 +77,17 @@ def small_tree_at(book, order, number, way):
 def small_place(table, order, number):
     """Return a variable to ask and the orders of its true and its false side for the fewest leaves at a number."""
     found, lesser = leaves_at_most(table, order), leaves_at_most(table, order - 1)
+    count = count_at(found, number)
     for name, (step, free) in zip(table.names, table.turns):
-        high, low = number + step, number + 2 * step
-        if free >> number & 1 and found[high] + lesser[low] == found[number]:
-            return (name, order, order - 1)
-        if free >> number & 1 and lesser[high] + found[low] == found[number]:
-            return (name, order - 1, order)
+        if free >> number & 1:
+            high, low = number + step, number + 2 * step
+            if adds_up(count_at(found, high), count_at(lesser, low), count):
+                return (name, order, order - 1)
+            if adds_up(count_at(lesser, high), count_at(found, low), count):
+                return (name, order - 1, order)
     return None
+
+
+def adds_up(one, other, count):
+    """Return whether two numbers of leaves, None where there is no tree, are so many together."""
+    return one is not None and other is not None and one + other == count

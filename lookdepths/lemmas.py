@@ -21,8 +21,10 @@ def depth_with(table, ends):
 
 
 def gain_at(table, number):
-    """Return by how much the depth is less if the clause of the contraries of a part-filling is put in."""
-    return table.depth() - depth_with(table, table.ends | table.above(1 << number))
+    """Return by how much the depth is less if the clause of the contraries of a part-filling is put in; it is kept."""
+    if number not in table.kept_gains:
+        table.kept_gains[number] = table.depth() - depth_with(table, table.ends | table.above(1 << number))
+    return table.kept_gains[number]
 
 
 def gain_of(book, clause):
@@ -41,16 +43,26 @@ def gains(book, number):
     need_book(book)
     need_number(number)
     table = book.table()
+    found = gaining(table, number)
+    following = table.turned_about(table.barred & table.at_most(number))
+    for row in book.clauses():
+        following &= ~(1 << table.number_of(row))
+    return {clause: found.get(at, 0) for clause, at in table.ascending() if following >> at & 1}
+
+
+def gaining(table, number):
+    """Return the dictionary from the numbers of the clauses of at most so many literals that gain to their gains."""
     found = {}
     # A clause within which there is one that gains nothing gains nothing: that one gains as much as both.
     useless = table.ends
     for exact in table.lengths()[:number + 1]:
-        for barred in numbers_in(exact & table.barred):
-            gain = 0 if useless >> barred & 1 else gain_at(table, barred)
-            found[table.clause_at(barred)] = gain
-            useless |= table.above(1 << barred) if gain == 0 else 0
-    rows = book.clauses()
-    return {clause: found[clause] for clause in sorted(found) if clause not in rows}
+        for barred in numbers_in(exact & table.barred & ~useless):
+            gain = gain_at(table, barred)
+            if gain > 0:
+                found[table.number_of(table.clause_at(barred))] = gain
+            else:
+                useless |= table.above(1 << barred)
+    return found
 
 
 def best_lemmas(book, number):

@@ -10,7 +10,7 @@ from lookdepths.trees import need_tree, order_if_tree
 def are_points(book, value):
     """Return whether any object is a family with points of a book."""
     need_book(book)
-    return by_points(book.table(), value) is not None
+    return by_points(book, value) is not None
 
 
 def is_number(value):
@@ -18,10 +18,13 @@ def is_number(value):
     return is_count(value) and value > 0
 
 
-def by_points(table, value):
+def by_points(book, value):
     """Return the dictionary from points to the sets that have them in a family, None for an object that is none."""
+    if not isinstance(value, dict) or () not in value:
+        return None
+    table = book.table()
     groups = grouped(table, value)
-    if groups is None or not any([groups[points] & 1 for points in groups]):
+    if groups is None:
         return None
     above = 0
     for points in sorted(groups, reverse=True):
@@ -32,9 +35,7 @@ def by_points(table, value):
 
 
 def grouped(table, value):
-    """Return the dictionary from points to the sets that have them in any object, None if it is none of this form."""
-    if not isinstance(value, dict):
-        return None
+    """Return the dictionary from points to the sets that have them in a dictionary, None if it has other entries."""
     numbers = table.numbers()
     groups = {}
     for part in value:
@@ -63,9 +64,11 @@ def points_with(family, part, literal):
 
 
 def need_points(book, family):
-    """Raise InvalidPoints unless it is a family with points of a book."""
-    if by_points(book.table(), family) is None:
+    """Return the dictionary from points to the sets that have them; InvalidPoints unless it is a family with points."""
+    groups = by_points(book, family)
+    if groups is None:
         raise InvalidPoints(family)
+    return groups
 
 
 def points_of(book, family):
@@ -87,9 +90,8 @@ def capped(book, points):
     These are the least depths of their rests; of those that can be filled any number.
     """
     table = book.table()
-    parts, orders = table.all_parts(), table.orders()
-    worth = [points if order is None else min(order, points) for order in orders]
-    return {parts[number]: worth[number] for number in table.ascending() if worth[number] > 0}
+    worth = [points if order is None else min(order, points) for order in table.orders()]
+    return {part: worth[number] for part, number in table.ascending() if worth[number] > 0}
 
 
 def family_for(book, points):
@@ -187,8 +189,7 @@ def bound(table, groups):
 def weakest_places(book, family):
     """Return the ascending list of the part-fillings that may be taken out of a family alone."""
     need_book(book)
-    need_points(book, family)
-    groups = by_points(book.table(), family)
+    groups = need_points(book, family)
     held = bound(book.table(), groups)
     return book.table().parts_in(sum(list(groups.values())) & ~held)
 
@@ -223,7 +224,7 @@ def is_thinned(book, family, value):
     """Return whether any object is such a family of entries of a family from which none may be taken out alone."""
     need_book(book)
     need_points(book, family)
-    groups = by_points(book.table(), value)
+    groups = by_points(book, value)
     if groups is None or not all([value[part] == family.get(part) for part in value]):
         return False
     return sum(list(groups.values())) & ~bound(book.table(), groups) == 0

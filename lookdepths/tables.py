@@ -6,7 +6,7 @@ would want a step for each of them. A clause is kept as the part-filling of its 
 the least depth of a look ([36]), so the same sets tell both. What was told once is kept: books never change.
 """
 
-from lookdepths.clauses import opposite
+from lookdepths.clauses import bare, opposite
 
 
 class Table:
@@ -30,7 +30,10 @@ class Table:
         self.kept_ascending = None
         self.kept_orders = None
         self.kept_leaves = []
-        self.kept_lines = {}
+        self.kept_makes = {}
+        self.kept_endings = {}
+        self.kept_gains = {}
+        self.kept_trees = {}
 
     def mark_literals(self):
         """Tell what each literal adds to a number, and which part-fillings have it, or lack its variable."""
@@ -84,8 +87,8 @@ class Table:
     def above(self, bits):
         """Return the set of the part-fillings that have one of a set within them."""
         for step, free in self.turns:
-            bare = bits & free
-            bits |= bare << step | bare << 2 * step
+            less = bits & free
+            bits |= less << step | less << 2 * step
         return bits
 
     def below(self, bits):
@@ -98,8 +101,8 @@ class Table:
         """Return the set of the part-fillings that have one literal more than some one of a set."""
         found = 0
         for step, free in self.turns:
-            bare = bits & free
-            found |= bare << step | bare << 2 * step
+            less = bits & free
+            found |= less << step | less << 2 * step
         return found
 
     def just_below(self, bits):
@@ -198,20 +201,30 @@ class Table:
         """Return the clause of the contraries of the part-filling of a number."""
         return tuple(sorted([opposite(literal) for literal in self.part_at(number)]))
 
+    def ascending(self):
+        """Return the ascending list of all part-fillings with their numbers; it is not to be changed."""
+        if self.kept_ascending is None:
+            pairs = [((), 0)]
+            for literal in sorted(self.worth, reverse=True):
+                # Those that begin with this literal stand behind the empty one, ahead of those with later ones alone.
+                worth, step = self.worth[literal], self.worth[bare(literal)]
+                more = [((literal,) + part, number + worth) for part, number in pairs if number // step % 3 == 0]
+                pairs = pairs[:1] + more + pairs[1:]
+            self.kept_ascending = pairs
+        return self.kept_ascending
+
     def all_parts(self):
         """Return the list of all part-fillings by their numbers; it is not to be changed."""
         if self.listed is None:
-            pairs = [((), ())]
-            for name in self.names:
-                high = [(low, bare + (name,)) for low, bare in pairs]
-                pairs = pairs + high + [(low + (opposite(name),), bare) for low, bare in pairs]
-            self.listed = [low + bare for low, bare in pairs]
+            self.listed = [()] * self.many
+            for part, number in self.ascending():
+                self.listed[number] = part
         return self.listed
 
     def numbers(self):
         """Return the dictionary from all part-fillings to their numbers; it is not to be changed."""
         if self.kept_numbers is None:
-            self.kept_numbers = {part: number for number, part in enumerate(self.all_parts())}
+            self.kept_numbers = {part: number for part, number in self.ascending()}
         return self.kept_numbers
 
     def number_in(self, value):
@@ -219,13 +232,6 @@ class Table:
         if not isinstance(value, tuple) or not all([isinstance(literal, str) for literal in value]):
             return None
         return self.numbers().get(value)
-
-    def ascending(self):
-        """Return the list of the numbers of all part-fillings, as these ascend; it is not to be changed."""
-        if self.kept_ascending is None:
-            numbers = self.numbers()
-            self.kept_ascending = [numbers[part] for part in sorted(self.all_parts())]
-        return self.kept_ascending
 
     def parts_in(self, bits):
         """Return the ascending list of the part-fillings of a set."""

@@ -8,6 +8,7 @@ import inspect
 import itertools
 import random
 import re
+import unittest
 
 from lookdepths import errors
 from lookdepths.books import Book
@@ -383,3 +384,13 @@ def ascends(value):
     if isinstance(value, dict):
         return list(value) == sorted(value) and all(ascends(entry) for entry in value.values())
     return all(ascends(entry) for entry in value) if isinstance(value, (list, tuple)) else True
+
+
+class FailsCase(unittest.TestCase):
+    """A test that checks the very error of a call, and what it holds."""
+
+    def fails(self, error, held, function, *arguments):
+        with self.assertRaises(error) as seen:
+            function(*arguments)
+        self.assertIs(seen.exception.__class__, error)
+        self.assertIs(seen.exception.value, held)

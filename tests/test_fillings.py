@@ -11,8 +11,8 @@ from lookdepths.fillings import (
     sure_depth, sure_literals, traps,
 )
 from tests.helper import (
-    against, any_objects, both, can_fill, chain, every_book, every_row, is_broken, left_over, looked, names_in,
-    pseudo_books, ring, row, signs,
+    FailsCase, against, any_objects, both, can_fill, chain, every_book, every_row, is_broken, left_over, looked,
+    names_in, pseudo_books, ring, row, signs,
 )
 
 HIDDEN = [("a", "b", "d"), ("-b", "a", "d"), ("-a", "b", "d"), ("-a", "-b", "d")]
@@ -80,13 +80,7 @@ def forces_all_sure(rows, depth):
     return True
 
 
-class FillingsTest(unittest.TestCase):
-    def fails(self, error, held, function, *arguments):
-        with self.assertRaises(error) as seen:
-            function(*arguments)
-        self.assertIs(seen.exception.__class__, error)
-        self.assertIs(seen.exception.value, held)
-
+class FillingsTest(FailsCase):
     def test_fillings_against_all_part_fillings(self):
         for rows in ALL:
             book, told = Book(rows), filled(rows)

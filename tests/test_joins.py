@@ -15,8 +15,8 @@ from lookdepths.joins import (
 from lookdepths.looks import depth_of_record, least_depth, record_of
 from lookdepths.trees import record_of_tree
 from tests.helper import (
-    against, any_objects, both, can_fill, chain, copies, every_book, every_plan, every_row, guests, is_broken, is_name,
-    is_row, is_score, names_in, pseudo_books, ring, row, shown, signs,
+    FailsCase, against, any_objects, both, can_fill, chain, copies, every_book, every_plan, every_row, guests,
+    is_broken, is_name, is_row, is_score, names_in, pseudo_books, ring, row, shown, signs,
 )
 
 TWO = [("a", "b"), ("-b", "a"), ("-a", "b"), ("-a", "-b")]
@@ -161,15 +161,7 @@ def bent(value, names):
                 yield head + [tuple(other for other in line if other != literal)] + tail
 
 
-class JoinsTest(unittest.TestCase):
-    def fails(self, error, held, function, *arguments):
-        with self.assertRaises(error) as seen:
-            function(*arguments)
-        self.assertIs(seen.exception.__class__, error)
-        self.assertIs(seen.exception.value, held)
-
-
-class PartnersTest(JoinsTest):
+class PartnersTest(FailsCase):
     def test_partners_and_what_is_made(self):
         for rows in FEW:
             book = Book(rows)
@@ -190,7 +182,7 @@ class PartnersTest(JoinsTest):
                 self.fails(InvalidClause, clause, function, book, clause)
 
 
-class DerivationTest(JoinsTest):
+class DerivationTest(FailsCase):
     def check(self, rows, value):
         told = followed(rows, value)
         book = Book(rows)
@@ -247,7 +239,7 @@ class DerivationTest(JoinsTest):
                 self.fails(InvalidNumber, width, function, book, width, [()])
 
 
-class WidthTest(JoinsTest):
+class WidthTest(FailsCase):
     def test_all_makes_of_each_width(self):
         for rows in SMALL[::3] + CHANCE + NAMED:
             book = Book(rows)
@@ -288,7 +280,7 @@ class WidthTest(JoinsTest):
                     self.assertIs([is_ending, is_one_sided_ending][one_sided](book, width, lines), True)
 
 
-class FamiliesTest(JoinsTest):
+class FamiliesTest(FailsCase):
     def test_greatest_ones_against_a_plain_search(self):
         for rows in SMALL[::5] + CHANCE[:20:2] + CHANCE[-4:] + NAMED:
             book = Book(rows)
@@ -377,7 +369,7 @@ class FamiliesTest(JoinsTest):
                 self.assertGreater(points[()], width)
 
 
-class RecordTest(JoinsTest):
+class RecordTest(FailsCase):
     def test_endings_by_records(self):
         for rows in SMALL[::2] + CHANCE + NAMED + [ALIKE, guests(3, 2), copies(2, 2), signs(list("abcd"))]:
             if can_fill(frozenset(rows)):

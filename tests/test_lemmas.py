@@ -8,9 +8,9 @@ from lookdepths.errors import Filled, InvalidBook, InvalidClause, InvalidDepth, 
 from lookdepths.lemmas import best_lemmas, fewest_lemmas, gain_of, gains, is_row, row_of_tree, shortest_row
 from lookdepths.trees import least_tree, leaves_of
 from tests.helper import (
-    any_objects, can_fill, chain, copies, depths_of_all, every_book, every_plan, every_row, guests, holds, is_leaf,
-    is_row as is_clause, left_over, names_in, pseudo_books, ring, satisfying, scramble, seen_depth, shown, signs,
-    turned_around,
+    FailsCase, any_objects, can_fill, chain, copies, depths_of_all, every_book, every_plan, every_row, guests,
+    holds, is_leaf, is_row as is_clause, left_over, names_in, pseudo_books, ring, satisfying, scramble, seen_depth,
+    shown, signs, turned_around,
 )
 
 TWO = [("a", "b"), ("-b", "a"), ("-a", "b"), ("-a", "-b")]
@@ -75,15 +75,7 @@ def fewest_plainly(rows, depth, most):
     return None
 
 
-class LemmasTest(unittest.TestCase):
-    def fails(self, error, held, function, *arguments):
-        with self.assertRaises(error) as seen:
-            function(*arguments)
-        self.assertIs(seen.exception.__class__, error)
-        self.assertIs(seen.exception.value, held)
-
-
-class GainTest(LemmasTest):
+class GainTest(FailsCase):
     def test_gains_against_a_plain_search(self):
         for rows in FEW:
             book, told = Book(rows), following(rows)
@@ -128,7 +120,7 @@ class GainTest(LemmasTest):
                 self.fails(InvalidNumber, number, function, book, number)
 
 
-class RowTest(LemmasTest):
+class RowTest(FailsCase):
     def check(self, rows, depth, value):
         told = is_row_plainly(rows, depth, value)
         self.assertIs(is_row(Book(rows), depth, value), told, (rows, depth, value))
@@ -179,7 +171,7 @@ class RowTest(LemmasTest):
             self.fails(InvalidDepth, depth, is_row, book, depth, [()])
 
 
-class FewestTest(LemmasTest):
+class FewestTest(FailsCase):
     def test_fewest_against_a_plain_search(self):
         some = SMALL[::2] + CHANCE[:40:2] + [ring(["a", "b", "c"]), copies(1, 3), chain(["a", "b", "c"]), [()], [(), ("a",)]]
         for rows in [rows for rows in some if not can_fill(frozenset(rows))]:

@@ -15,8 +15,8 @@ from lookdepths.makes import (
 from lookdepths.opponents import are_points
 from lookdepths.trees import fewest_leaves, is_least_tree, is_tree, is_tree_of_fewest, leaves_of, order_of, record_of_tree
 from tests.helper import (
-    any_objects, can_fill, chain, copies, every_book, guests, is_plan, is_score, names_in, plan_leaves, plan_order,
-    pseudo_books, ring, row, scramble, signs,
+    FailsCase, any_objects, can_fill, chain, copies, every_book, guests, is_plan, is_score, names_in, plan_leaves,
+    plan_order, pseudo_books, ring, row, scramble, signs,
 )
 
 LETTERS = "abcdefghijklmnopqrstuvwxyz"
@@ -50,13 +50,7 @@ def variables_of(make):
     return make[1] * make[2] if len(make) == 3 else make[1]
 
 
-class MakesTest(unittest.TestCase):
-    def fails(self, error, held, function, *arguments):
-        with self.assertRaises(error) as seen:
-            function(*arguments)
-        self.assertIs(seen.exception.__class__, error)
-        self.assertIs(seen.exception.value, held)
-
+class MakesTest(FailsCase):
     def test_books(self):
         for make in EIGHT:
             rows = rows_of(make)

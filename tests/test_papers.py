@@ -16,8 +16,8 @@ from lookdepths.papers import (
 )
 from lookdepths.trees import least_tree
 from tests.helper import (
-    any_objects, chain, copies, every_book, every_plan, every_row, is_name, is_row, is_rows, is_signed_name, names_in,
-    pseudo_books, ring, shown, signs,
+    FailsCase, any_objects, chain, copies, every_book, every_plan, every_row, is_name, is_row, is_rows,
+    is_signed_name, names_in, pseudo_books, ring, shown, signs,
 )
 
 TWO = [("a", "b"), ("-b", "a"), ("-a", "b"), ("-a", "-b")]
@@ -123,13 +123,7 @@ def right_papers():
     return [families, plans, points, lines, looks]
 
 
-class PapersTest(unittest.TestCase):
-    def fails(self, error, held, function, *arguments):
-        with self.assertRaises(error) as seen:
-            function(*arguments)
-        self.assertIs(seen.exception.__class__, error)
-        self.assertIs(seen.exception.value, held)
-
+class PapersTest(FailsCase):
     def test_books_there_and_back(self):
         for rows in every_book(["a", "b"], 9) + pseudo_books(111, 20, ["a", "b", "end"], 6, 3) + [[], [()], [(), ("put",)]]:
             text = book_text(Book(rows))

@@ -11,8 +11,8 @@ from lookdepths.parts import (
     keeping_literals, needed_clauses, splitting_variables,
 )
 from tests.helper import (
-    any_objects, both, can_fill, chain, copies, depths_of_all, every_book, every_plan, guests, is_leaf, left_over,
-    names_in, plan_order, pseudo_books, ring, scramble, seen_depth, signs,
+    FailsCase, any_objects, both, can_fill, chain, copies, depths_of_all, every_book, every_plan, guests, is_leaf,
+    left_over, names_in, plan_order, pseudo_books, ring, scramble, seen_depth, signs,
 )
 
 SMALL = every_book(["a", "b"], 9)
@@ -45,15 +45,7 @@ def all_cores(rows):
     return sorted(lot for lot in some if is_core_plainly(rows, lot))
 
 
-class PartsTest(unittest.TestCase):
-    def fails(self, error, held, function, *arguments):
-        with self.assertRaises(error) as seen:
-            function(*arguments)
-        self.assertIs(seen.exception.__class__, error)
-        self.assertIs(seen.exception.value, held)
-
-
-class BesideTest(PartsTest):
+class BesideTest(FailsCase):
     def test_side_by_side(self):
         for rows in FEW:
             for others in APART:
@@ -84,7 +76,7 @@ class BesideTest(PartsTest):
         self.assertEqual(depth_by_pieces(Book([])), 0)
 
 
-class CoreTest(PartsTest):
+class CoreTest(FailsCase):
     def test_all_cores(self):
         for rows in SMALL[::2] + CHANCE[::2] + NAMED:
             if len(rows) <= 10:
@@ -140,7 +132,7 @@ class CoreTest(PartsTest):
             self.assertEqual(needed_clauses(book), needed, rows)
 
 
-class ValuesTest(PartsTest):
+class ValuesTest(FailsCase):
     def test_values_and_literals(self):
         for rows in ALL:
             book, names = Book(rows), names_in(rows)

@@ -7,7 +7,7 @@ from lookdepths.books import Book
 from lookdepths.desk import Desk
 from lookdepths.errors import InvalidDesk, InvalidScript, InvalidText, LookError
 from lookdepths.scripts import end_of, play, read_script, script_text, shortened
-from tests.helper import any_objects, is_row, is_signed_name, scramble, shown
+from tests.helper import FailsCase, any_objects, is_row, is_signed_name, scramble, shown
 
 BOOK = Book([("a", "b"), ("-b", "a")])
 TWO = Book([("a", "b"), ("-b", "a"), ("-a", "b"), ("-a", "-b")])
@@ -94,15 +94,7 @@ def any_script(chance, many, deep=0):
     return script
 
 
-class ScriptsTest(unittest.TestCase):
-    def fails(self, error, held, function, *arguments):
-        with self.assertRaises(error) as seen:
-            function(*arguments)
-        self.assertIs(seen.exception.__class__, error)
-        self.assertIs(seen.exception.value, held)
-
-
-class PlayTest(ScriptsTest):
+class PlayTest(FailsCase):
     def test_played_scripts(self):
         words = set()
         for seed in range(200):
@@ -171,7 +163,7 @@ class PlayTest(ScriptsTest):
         self.assertEqual(desk.log(), [("put", BOOK), ("force", 0, 2)])
 
 
-class TextTest(ScriptsTest):
+class TextTest(FailsCase):
     def test_there_and_back(self):
         for seed in range(200):
             script = any_script(random.Random(1000 + seed), 12)
@@ -235,7 +227,7 @@ class TextTest(ScriptsTest):
         self.assertEqual(script_text(read_script(text)), text)
 
 
-class EndTest(ScriptsTest):
+class EndTest(FailsCase):
     def end_plainly(self, script):
         desk = Desk()
         said_plainly(desk, script)
