@@ -2,7 +2,7 @@
 
 import unittest
 
-from lookdepths.books import Book, either
+from lookdepths.books import Book, either, turned_book
 from lookdepths.errors import Filled, InvalidBook, InvalidFilling, InvalidLook, InvalidNumber, InvalidTree
 from lookdepths.looks import depth_of_record, is_record, least_depth, record_of
 from lookdepths.trees import (
@@ -280,6 +280,19 @@ class FewestTest(unittest.TestCase):
                     self.assertIsNone(tree)
                     self.assertIs(is_tree_of_fewest(book, order, tree), False)
             self.assertEqual(list(leaves_by_order(book).items()), list(counts.items()))
+
+    def test_fewer_leaves_may_want_a_greater_order_on_either_side(self):
+        # With signs turned the side of the lesser order is the true one here, the false one there.
+        beside = either(Book(APART), Book(signs(["x", "y"])), "z").clauses()
+        for rows, names in [(APART, "abde"), (APART_BY_TWO, "abcde"), (APART_BY_THREE, "abcd"), (beside, "az")]:
+            for many in range(2 ** len(names)):
+                turned = [name for at, name in enumerate(names) if many >> at & 1]
+                book = turned_book(Book(rows), turned)
+                self.assertEqual(leaves_by_order(book), leaves_by_order(Book(rows)))
+                for order in [*leaves_by_order(book), 60]:
+                    tree = tree_of_fewest(book, order)
+                    self.assertTrue(is_plan(book.clauses(), tree) and plan_order(tree) <= order)
+                    self.assertEqual(plan_leaves(tree), fewest_at(Book(rows), order))
 
     def test_fewer_leaves_may_want_a_greater_order(self):
         book = Book(APART)
